@@ -1,0 +1,1 @@
+"""Echofields: fields of a form that set one another."""

@@ -1,0 +1,21 @@
+"""The kinds of values that all modules ask for: integers and tuples."""
+
+
+def is_whole(value):
+    """Tell whether value is an integer; True and False are none."""
+    return isinstance(value, int) and not isinstance(value, bool)
+
+
+def is_natural(value):
+    """Tell whether value is an integer from 0 on."""
+    return is_whole(value) and value >= 0
+
+
+def is_index(value, many):
+    """Tell whether value is an integer from 0 to many - 1."""
+    return is_whole(value) and 0 <= value < many
+
+
+def is_tuple_of(value, many):
+    """Tell whether value is a tuple of just so many items."""
+    return isinstance(value, tuple) and len(value) == many

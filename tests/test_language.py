@@ -1,0 +1,101 @@
+"""A part of the rules for the code of the package: those that are easily broken by an oversight."""
+
+import ast
+import builtins
+import pathlib
+import re
+import unittest
+
+PACKAGE = pathlib.Path(__file__).resolve().parent.parent / "echofields"
+FILES = sorted(PACKAGE.glob("*.py"))
+
+BUILTINS = set(
+    "len range enumerate zip min max sum abs sorted reversed int str bool list tuple dict set isinstance ord repr any"
+    " all divmod pow map iter next property staticmethod classmethod super Exception ValueError TypeError KeyError"
+    " IndexError LookupError NotImplemented".split()
+)
+# Python's prompt, and doctest with it, leaves a name "_" among the builtins.
+ALL_BUILTINS = set(vars(builtins)) - {"_"}
+BARRED = set("register mro elements open input law typing enum namedtuple dataclass overload contextmanager".split())
+
+
+def nodes(file, *kinds):
+    return [node for node in ast.walk(ast.parse(file.read_text())) if isinstance(node, kinds)]
+
+
+def bound_names(tree):
+    found = []
+    for node in tree.body:
+        if isinstance(node, (ast.FunctionDef, ast.ClassDef)):
+            found.append(node.name)
+        elif isinstance(node, ast.ImportFrom):
+            found.extend(alias.asname or alias.name for alias in node.names)
+        elif isinstance(node, ast.Assign):
+            found.extend(target.id for target in node.targets)
+    return found
+
+
+class LanguageTest(unittest.TestCase):
+    def test_the_folder_holds_plain_files_only(self):
+        names = [path.name for path in PACKAGE.iterdir() if path.name != "__pycache__"]
+        for name in names:
+            self.assertRegex(name, r"^([a-z][a-z0-9_]*|__init__)\.py$")
+
+    def test_sizes(self):
+        for file in FILES:
+            lines = file.read_text().split("\n")
+            self.assertLessEqual(len(lines), 399, file)
+            self.assertLessEqual(max(map(len, lines)), 120, file)
+            for node in nodes(file, ast.FunctionDef):
+                self.assertLessEqual(node.end_lineno - node.lineno + 1, 40, f"{file} {node.name}")
+
+    def test_characters(self):
+        for file in FILES:
+            self.assertRegex(file.read_text(), r"\A[ -~\n]*\Z", file)
+
+    def test_strings_and_numbers(self):
+        for file in FILES:
+            for node in nodes(file, ast.Constant):
+                self.assertNotIsInstance(node.value, (float, complex), file)
+                if isinstance(node.value, str):
+                    self.assertNotIn("%", node.value, file)
+
+    def test_imports(self):
+        for file in FILES:
+            self.assertEqual(nodes(file, ast.Import), [], file)
+            for node in nodes(file, ast.ImportFrom):
+                first, _, name = node.module.partition(".")
+                self.assertEqual((node.level, first), (0, "echofields"), file)
+                tree = ast.parse((PACKAGE / f"{name}.py").read_text())
+                own = [kept for part in tree.body if not isinstance(part, ast.ImportFrom)
+                       for kept in bound_names(ast.Module([part], []))]
+                for alias in node.names:
+                    self.assertIn(alias.name, own, file)
+
+    def test_each_name_is_bound_once(self):
+        for file in FILES:
+            names = bound_names(ast.parse(file.read_text()))
+            self.assertEqual(len(names), len(set(names)), file)
+
+    def test_module_level_holds_definitions_only(self):
+        allowed = (ast.FunctionDef, ast.ClassDef, ast.ImportFrom, ast.Assign)
+        for file in FILES:
+            for node in ast.parse(file.read_text()).body[1:]:
+                self.assertIsInstance(node, allowed, file)
+
+    def test_names(self):
+        for file in FILES:
+            stored = {node.id for node in nodes(file, ast.Name) if not isinstance(node.ctx, ast.Load)}
+            stored |= {node.arg for node in nodes(file, ast.arg)}
+            self.assertEqual(stored & ALL_BUILTINS, set(), file)
+            read = {node.id for node in nodes(file, ast.Name) if isinstance(node.ctx, ast.Load)}
+            self.assertLessEqual(read & ALL_BUILTINS, BUILTINS, file)
+            self.assertEqual(BARRED & set(re.findall(r"\w+", file.read_text())), set(), file)
+
+    def test_statements(self):
+        for file in FILES:
+            self.assertEqual(nodes(file, ast.Global, ast.AsyncFunctionDef, ast.Await, ast.Div), [], file)
+
+
+if __name__ == "__main__":
+    unittest.main()
