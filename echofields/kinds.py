@@ -19,3 +19,8 @@ def is_index(value, many):
 def is_tuple_of(value, many):
     """Tell whether value is a tuple of just so many items."""
     return isinstance(value, tuple) and len(value) == many
+
+
+def is_ascending(items):
+    """Tell whether each item is greater than the one before it; the items are such as can be compared."""
+    return all([items[place - 1] < items[place] for place in range(1, len(items))])

@@ -2,6 +2,8 @@
 
 import itertools
 
+from echofields.errors import FieldError
+
 
 def nested(kind, depth):
     value = kind()
@@ -22,10 +24,15 @@ ANY_VALUES = [
     nested(tuple, 19), nested(list, 19), nested(dict, 19),
 ]
 
+# A few of them, for what has very many places.
+SOME_VALUES = [None, True, False, 0, 2, -1, VERY_GREAT, "", "0", (), (0,), (0, 0), (0, (0, 0), (), ()), [], [0], {"a": 0}]
+
 P = ((2, 2), ((0, 1, (0, 0), 0), (0, 1, (1, 1), 0)))
 Q = ((2, 2, 2), ((0, 1, (0, 1), 0), (0, 2, (0, 1), 0), (1, 2, (1, 0), 0)))
 S = ((2, 3), ((0, 1, (None, 2), 1),))
 T = ((2, 2), ((0, 1, (1, 0), 0), (1, 0, (0, 1), 0)))
+U = ((2, 2), ((0, 1, (0, 1), 0), (1, 0, (0, 1), 0)))
+V = ((2, 2), ((0, 1, (1, 0), 0), (1, 0, (0, 0), 0)))
 C = ((3, 3, 2), ((0, 1, (0, 2, 2), 0), (1, 2, (0, None, 1), 0), (1, 0, (0, 1, 2), 2)))
 LONE = ((6,), ())
 NO_LINKS = ((2, 3, 6), ())
@@ -38,7 +45,54 @@ FULL = (
         (3, 0, (1, 0), 3), (3, 0, (1, 0), 3), (0, 2, (1, None), 1),
     ),
 )
-FORMS = [P, Q, S, T, C, LONE, NO_LINKS, EMPTY_TABLE, TWINS, FULL]
+FORMS = [P, Q, S, T, U, V, C, LONE, NO_LINKS, EMPTY_TABLE, TWINS, FULL]
+
+# From here on the names tell how many moments are reached: no run of RESTING is endless, some of TURNING are; from the
+# calm beginnings of CALM_3000 alone as many are reached.
+RESTING_3000 = (
+    (3, 2, 2, 3),
+    (
+        (2, 1, (1, 0), 2), (2, 3, (2, 1), 1), (3, 2, (0, 0, 1), 0),
+        (1, 3, (2, 0), 1), (2, 3, (1, 0), 1), (3, 2, (1, 1, 1), 1),
+    ),
+)
+TURNING_3000 = (
+    (3, 2, 2, 2),
+    (
+        (3, 1, (0, 1), 1), (2, 1, (1, 0), 1), (1, 2, (1, 0), 0),
+        (2, 1, (0, 1), 0), (1, 3, (0, 1), 2), (1, 2, (0, 1), 1),
+    ),
+)
+CALM_3000 = (
+    (2, 2, 3, 3),
+    (
+        (0, 2, (None, 2), 0), (2, 0, (0, 0, 0), 1), (0, 2, (None, 0), 0),
+        (2, 0, (None, 1, 1), 0), (0, 2, (None, 1), 0), (2, 0, (0, 0, 0), 1),
+    ),
+)
+JUST_3001 = (
+    (4, 2, 2, 2),
+    (
+        (1, 2, (0, 1), 0), (1, 2, (1, 0), 1), (3, 0, (None, 0), 1),
+        (2, 1, (0, 1), 2), (2, 3, (1, 0), 0), (3, 2, (0, 1), 0),
+    ),
+)
+ALSO_3001 = (
+    (2, 2, 3, 3),
+    (
+        (3, 0, (0, None, 1), 0), (1, 2, (None, 1), 1), (0, 3, (2, 2), 3),
+        (3, 1, (1, 0, None), 0), (1, 3, (0, 1), 0), (0, 3, (2, 1), 0),
+    ),
+)
+
+
+def raised(call):
+    """Return the error of the package that a call raises, None if it raises none."""
+    try:
+        call()
+    except FieldError as error:
+        return error
+    return None
 
 
 def same(one, other):
@@ -94,14 +148,16 @@ def other_kinds(item):
         return [list(item), item[:-1], item[1:], item + (0,), item + (None,), item * 2, dict.fromkeys("ab", item)]
     if item is None:
         return [False, 0, "None"]
+    if isinstance(item, str):
+        return [item + " ", item[:-1], item.upper(), (item,), [item]]
     return [bool(item), item + 1, item - 1, str(item), (item,), [item]]
 
 
-def spoiled(value):
+def spoiled(value, items=ANY_VALUES):
     """Return many variants of a nested tuple: each of its places with all kinds of values."""
     found = []
     for path in places(value):
-        for item in other_kinds(at_place(value, path)) + ANY_VALUES:
+        for item in other_kinds(at_place(value, path)) + items:
             found.append(put(value, path, item))
     return found
 

@@ -1,4 +1,4 @@
-"""The document's own examples, as written."""
+"""The document's own examples, as written: they go on from one another, as there."""
 
 import doctest
 import unittest
@@ -13,17 +13,53 @@ FORMS = """
 [None, (0,), (0,), ('ring', (0, 1)), ('ranks', (0, 1))]
 """
 
+RUNS = """
+>>> from echofields.runs import begin, fire, is_moment, moment_behind, walk_order
+>>> [begin(T, (0, 1), (0, 1)), begin(T, (0, 1), (0, 0)), fire(T, (0, (1, 1), (0,), ()), 0)]
+[(0, (1, 1), (0,), ()), (0, (0, 1), (), ()), (0, (1, 0), (1,), ())]
+>>> [moment_behind(T, (0, 1), (0, 1), (0, 1, 0, 1)), list(walk_order(S, (0, 1), (0, 1), (0,)))]
+[(0, (1, 1), (0,), ()), [(0, (1, 1), (0,), ()), (0, (1, 2), (), (0,))]]
+"""
+
+FIELDS = """
+>>> from echofields.fields import Fields
+>>> from echofields.texts import filling_text, form_text, parse_filling, parse_form
+>>> C = ((3, 3, 2), ((0, 1, (0, 2, 2), 0), (1, 2, (0, None, 1), 0), (1, 0, (0, 1, 2), 2)))
+>>> [form_text(C), parse_form("2,3 / 0>1 1:-,2") == S, parse_filling(S, "1,2"), filling_text((0, 2))]
+['3,3,2 / 0>1 0:0,2,2 / 1>2 0:0,-,1 / 1>0 2:0,1,2', True, (1, 2), '0,2']
+>>> fields = Fields(C, (0, 0, 0))
+>>> fields[0] = 1
+>>> [fields.filling, fields.last, bool(fields), (1, 2) in fields, fields[2], str(fields)]
+[(1, 2, 1), (0, 1, 2), False, True, 1, '1,2,1']
+>>> [fields(((1, 0), (0, 2))), fields.filling, bool(fields)]
+[((1, 2, 0), (0, 1, 2)), (2, 2, 1), True]
+"""
+
+REACHES = """
+>>> from echofields.reaches import beginnings, reached, reached_from
+>>> T = ((2, 2), ((0, 1, (1, 0), 0), (1, 0, (0, 1), 0)))
+>>> S = ((2, 3), ((0, 1, (None, 2), 1),))
+>>> [beginnings(S)[4:6], beginnings(T, calm=True), len(reached(S)), reached_from(S, (0, 1), (0, 1))]
+[(((0, 0), (1, 2)), ((0, 1), (0, 0))), (), 22, ((0, (1, 1), (0,), ()), (0, (1, 2), (), (0,)))]
+"""
+
 
 class ExamplesTest(unittest.TestCase):
-    def check(self, text, many):
-        case = doctest.DocTestParser().get_doctest(text, {}, "example", None, 0)
-        report = []
-        result = doctest.DocTestRunner(verbose=False).run(case, out=report.append)
-        self.assertEqual(result.failed, 0, "".join(report))
-        self.assertEqual(result.attempted, many)
+    def check(self, *examples):
+        known = {}
+        for text, many in examples:
+            case = doctest.DocTestParser().get_doctest(text, known, "example", None, 0)
+            report = []
+            result = doctest.DocTestRunner(verbose=False).run(case, out=report.append, clear_globs=False)
+            known = case.globs
+            self.assertEqual(result.failed, 0, "".join(report))
+            self.assertEqual(result.attempted, many)
 
-    def test_forms(self):
-        self.check(FORMS, 5)
+    def test_section_a(self):
+        self.check((FORMS, 5), (RUNS, 3), (FIELDS, 8))
+
+    def test_section_b(self):
+        self.check((REACHES, 4))
 
 
 if __name__ == "__main__":

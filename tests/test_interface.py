@@ -6,7 +6,11 @@ import inspect
 import pathlib
 import unittest
 
+from echofields.fields import Fields
+
 PACKAGE = pathlib.Path(__file__).resolve().parent.parent / "echofields"
+
+ONE = ["form", "filling", "edit"]
 
 FUNCTIONS = {
     "forms": {
@@ -14,7 +18,22 @@ FUNCTIONS = {
         "is_edit": ["form", "value"], "wish": ["form", "filling", "link"], "loud_links": ["form", "filling"],
         "is_calm": ["form", "filling"], "field_ring": ["form"], "ring_holds": ["form", "value"],
     },
+    "runs": {
+        "begin": ONE, "fire": ["form", "value", "link"], "is_moment": ["form", "value"],
+        "moment_behind": ONE + ["order"], "walk_order": ONE + ["order"],
+    },
+    "texts": {
+        "form_text": ["form"], "filling_text": ["filling"], "parse_form": ["value"], "parse_filling": ["form", "value"],
+    },
+    "reaches": {"beginnings": ["form", "*calm"], "reached": ["form", "*calm"], "reached_from": ONE},
 }
+
+METHODS = {
+    "__init__": ["form", "filling"], "refill": ["filling"], "copy": [], "__call__": ["edits"], "__getitem__": ["at"],
+    "__setitem__": ["at", "worth"], "__iadd__": ["other"], "__len__": [], "__contains__": ["x"], "__bool__": [],
+    "__str__": [], "__eq__": ["other"], "__iter__": [],
+}
+PROPERTIES = {"form": False, "filling": True, "last": False}
 
 
 def defined_in(name):
@@ -34,15 +53,43 @@ class InterfaceTest(unittest.TestCase):
                 with self.subTest(module=module, name=name):
                     self.assertEqual(defined_in(module).count(name), 1)
 
-    def test_functions_take_their_parameters_by_position(self):
+    def test_functions_take_their_parameters(self):
         for module, functions in FUNCTIONS.items():
             for name, expected in functions.items():
                 with self.subTest(module=module, name=name):
                     function = getattr(importlib.import_module(f"echofields.{module}"), name)
-                    parameters = inspect.signature(function).parameters.values()
-                    self.assertEqual([parameter.name for parameter in parameters], expected)
-                    self.assertEqual({parameter.kind for parameter in parameters},
-                                     {inspect.Parameter.POSITIONAL_OR_KEYWORD})
+                    parameters = list(inspect.signature(function).parameters.values())
+                    self.assertEqual([told(parameter) for parameter in parameters], expected)
+                    for parameter in parameters:
+                        expected_default = False if parameter.name == "calm" else parameter.empty
+                        self.assertIs(parameter.default, expected_default)
+
+    def test_walk_order_alone_is_a_generator(self):
+        for module, functions in FUNCTIONS.items():
+            for name in functions:
+                function = getattr(importlib.import_module(f"echofields.{module}"), name)
+                self.assertIs(inspect.isgeneratorfunction(function), name == "walk_order")
+
+    def test_the_class_fields_has_its_methods_itself(self):
+        self.assertEqual(defined_in("fields").count("Fields"), 1)
+        self.assertEqual(Fields.__bases__, (object,))
+        for name, expected in METHODS.items():
+            with self.subTest(name=name):
+                parameters = list(inspect.signature(vars(Fields)[name]).parameters.values())
+                self.assertEqual([told(parameter) for parameter in parameters][1:], expected)
+
+    def test_the_class_fields_has_its_properties_itself(self):
+        for name, can_be_set in PROPERTIES.items():
+            with self.subTest(name=name):
+                self.assertIs(vars(Fields)[name].__class__, property)
+                self.assertIs(vars(Fields)[name].fset is not None, can_be_set)
+                self.assertIs(vars(Fields)[name].fdel, None)
+
+
+def told(parameter):
+    """Return the name of a parameter, with a star where it is passed by keyword."""
+    assert parameter.kind in (parameter.POSITIONAL_OR_KEYWORD, parameter.KEYWORD_ONLY)
+    return ("*" if parameter.kind == parameter.KEYWORD_ONLY else "") + parameter.name
 
 
 if __name__ == "__main__":

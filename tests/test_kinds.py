@@ -2,7 +2,7 @@
 
 import unittest
 
-from echofields.kinds import is_index, is_natural, is_tuple_of, is_whole
+from echofields.kinds import is_ascending, is_index, is_natural, is_tuple_of, is_whole
 from tests.samples import ANY_VALUES, GREAT, VERY_GREAT
 
 
@@ -32,6 +32,12 @@ class KindsTest(unittest.TestCase):
         for many in (0, 1, 2, 4):
             for value in ANY_VALUES:
                 self.assertIs(is_tuple_of(value, many), value.__class__ is tuple and len(value) == many)
+
+    def test_ascending_tuples(self):
+        for items in ((), (0,), (0, 1), (0, 2, GREAT), ((), (0,), (0, 0), (0, 1), (1,)), (-1, 0)):
+            self.assertIs(is_ascending(items), True)
+        for items in ((0, 0), (1, 0), (0, 2, 1), (0, 1, 1), ((0,), ()), ((0, 1), (0, 0)), (GREAT, 0), (0, 1, 0)):
+            self.assertIs(is_ascending(items), False)
 
 
 if __name__ == "__main__":

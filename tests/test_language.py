@@ -18,6 +18,10 @@ BUILTINS = set(
 ALL_BUILTINS = set(vars(builtins)) - {"_"}
 BARRED = set("register mro elements open input law typing enum namedtuple dataclass overload contextmanager".split())
 
+MODIFYING = {"append", "extend", "pop", "setdefault"}
+# The methods that are called: of lists, dicts and strings, and two of Fields.
+CALLED = MODIFYING | {"items", "values", "join", "split", "partition", "isascii", "isdigit", "refill", "_do"}
+
 
 def nodes(file, *kinds):
     return [node for node in ast.walk(ast.parse(file.read_text())) if isinstance(node, kinds)]
@@ -95,6 +99,51 @@ class LanguageTest(unittest.TestCase):
     def test_statements(self):
         for file in FILES:
             self.assertEqual(nodes(file, ast.Global, ast.AsyncFunctionDef, ast.Await, ast.Div), [], file)
+
+    def test_what_operators_bar_in_the_package(self):
+        for file in FILES:
+            # A class has +=, so it stands in the code of callers alone; a class has ==, so any and all take lists.
+            self.assertEqual(nodes(file, ast.AugAssign, ast.GeneratorExp), [], file)
+            for node in nodes(file, ast.Call):
+                if isinstance(node.func, ast.Attribute):
+                    self.assertIn(node.func.attr, CALLED, file)
+
+    def test_functions_change_only_what_they_made(self):
+        for file in FILES:
+            for function in nodes(file, ast.FunctionDef):
+                if function.name not in ("__init__", "refill", "_do", "__call__", "copy"):
+                    made, spoilt = changes(function)
+                    self.assertLessEqual(spoilt, made, f"{file} {function.name}")
+
+
+def changes(function):
+    """Return the names that a function assigns nothing but new lists and dicts, and those of what it changes."""
+    assigned = [node for node in ast.walk(function) if isinstance(node, ast.Assign)]
+    made, other, spoilt = set(), set(), set()
+    for node in assigned:
+        for target in node.targets:
+            if isinstance(target, ast.Name):
+                (made if is_new(node.value) else other).add(target.id)
+            elif isinstance(target, (ast.Subscript, ast.Attribute)):
+                spoilt.add(root(target))
+    for node in ast.walk(function):
+        if isinstance(node, ast.Call) and isinstance(node.func, ast.Attribute) and node.func.attr in MODIFYING:
+            spoilt.add(root(node.func.value))
+    return made - other, spoilt
+
+
+def root(node):
+    while not isinstance(node, ast.Name):
+        node = node.func if isinstance(node, ast.Call) else node.value
+    return node.id
+
+
+def is_new(node):
+    if isinstance(node, (ast.List, ast.Dict, ast.ListComp, ast.DictComp)):
+        return True
+    if isinstance(node, ast.BinOp):
+        return is_new(node.left)
+    return isinstance(node, ast.Call) and isinstance(node.func, ast.Name) and node.func.id in ("list", "dict", "sorted")
 
 
 if __name__ == "__main__":

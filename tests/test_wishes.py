@@ -2,21 +2,12 @@
 
 import unittest
 
-from echofields.errors import BadFilling, FieldError, NoLink
+from echofields.errors import BadFilling, NoLink
 from echofields.forms import is_calm, loud_links, wish
 from tests.samples import (
     ANY_VALUES, C, EMPTY_TABLE, FORMS, GREAT, LONE, NO_LINKS, P, S, T, TWINS, VERY_GREAT,
-    duplicate, is_among, naive_fillings, same, spoiled,
+    duplicate, is_among, naive_fillings, raised, same, spoiled,
 )
-
-
-def raised(call):
-    """Return the error of the package that a call raises."""
-    try:
-        call()
-    except FieldError as error:
-        return error
-    return None
 
 
 class WishTest(unittest.TestCase):
