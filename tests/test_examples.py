@@ -43,6 +43,39 @@ REACHES = """
 [(((0, 0), (1, 2)), ((0, 1), (0, 0))), (), 22, ((0, (1, 1), (0,), ()), (0, (1, 2), (), (0,)))]
 """
 
+ENDLESS = """
+>>> from echofields.endless import endless_holds, find_endless
+>>> P = ((2, 2), ((0, 1, (0, 0), 0), (0, 1, (1, 1), 0)))
+>>> [find_endless(T), find_endless(T, calm=True), find_endless(P)[0], find_endless(P)[1][1]]
+[('endless', (0, 0), (1, 1), (), (1, 0, 1, 0)), ('heights', ()), 'heights', ((0, (0, 0), (0, 1), ()), 2)]
+>>> [endless_holds(T, ("endless", (0, 1), (0, 1), (0, 1), (0, 1, 0, 1))), endless_holds(T, ("heights", ()), calm=True)]
+[True, True]
+"""
+
+PARTING = """
+>>> from echofields.parting import ends_of, find_parting, parting_holds
+>>> [find_parting(P), ends_of(P, (0, 0), (0, 1)), ends_of(T, (0, 0), (1, 1))]
+[('orders', (0, 0), (0, 1), (0, 1), (1, 0)), ((1, 0), (1, 1)), ()]
+>>> [find_parting(T)[0], find_parting(T)[1][0], parting_holds(P, ("orders", (1, 1), (0, 0), (1, 0), (0, 1)))]
+['ends', ((0, (0, 0), (), ()), (0, 0)), True]
+"""
+
+ECHOES = """
+>>> from echofields.echoes import find_overruled, find_uncalm, overruled_holds
+>>> V = ((2, 2), ((0, 1, (1, 0), 0), (1, 0, (0, 0), 0)))
+>>> [find_uncalm(P), find_overruled(V), overruled_holds(V, ("order", (0, 1), (0, 1), (0, 1, 0, 1)))]
+[('order', (0, 0), (0, 0), ()), ('order', (0, 1), (0, 1), (0, 1, 0, 1)), True]
+"""
+
+COUNTING = """
+>>> from echofields.counting import longest_order, many_orders, order_at, order_number, shortest_order
+>>> Q = ((2, 2, 2), ((0, 1, (0, 1), 0), (0, 2, (0, 1), 0), (1, 2, (1, 0), 0)))
+>>> [many_orders(Q, (0, 0, 0), (0, 1)), order_at(Q, (0, 0, 0), (0, 1), 1), order_number(Q, (0, 0, 0), (0, 1), (1, 0, 2))]
+[3, (0, 2, 1), 2]
+>>> [shortest_order(Q, (0, 0, 0), (0, 1)), longest_order(Q, (0, 0, 0), (0, 1)), shortest_order(T, (0, 0), (1, 1))]
+[(0, 1, 2), (0, 1, 2), None]
+"""
+
 
 class ExamplesTest(unittest.TestCase):
     def check(self, *examples):
@@ -59,7 +92,7 @@ class ExamplesTest(unittest.TestCase):
         self.check((FORMS, 5), (RUNS, 3), (FIELDS, 8))
 
     def test_section_b(self):
-        self.check((REACHES, 4))
+        self.check((REACHES, 4), (ENDLESS, 4), (PARTING, 3), (ECHOES, 3), (COUNTING, 4))
 
 
 if __name__ == "__main__":

@@ -26,6 +26,16 @@ FUNCTIONS = {
         "form_text": ["form"], "filling_text": ["filling"], "parse_form": ["value"], "parse_filling": ["form", "value"],
     },
     "reaches": {"beginnings": ["form", "*calm"], "reached": ["form", "*calm"], "reached_from": ONE},
+    "endless": {"find_endless": ["form", "*calm"], "endless_holds": ["form", "value", "*calm"]},
+    "parting": {"find_parting": ["form", "*calm"], "ends_of": ONE, "parting_holds": ["form", "value", "*calm"]},
+    "echoes": {
+        "find_uncalm": ["form", "*calm"], "find_overruled": ["form", "*calm"],
+        "uncalm_holds": ["form", "value", "*calm"], "overruled_holds": ["form", "value", "*calm"],
+    },
+    "counting": {
+        "shortest_order": ONE, "longest_order": ONE, "many_orders": ONE, "order_at": ONE + ["number"],
+        "order_number": ONE + ["order"],
+    },
 }
 
 METHODS = {
