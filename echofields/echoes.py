@@ -1,71 +1,83 @@
 """Ends that are not calm, and edits that are overruled by their own echo."""
 
 from echofields.bounds import MAX_MOMENTS, MAX_SIZE
-from echofields.evidence import are_closed, asked_in_reach, end_or_none, is_asked, moments_fired
-from echofields.forms import is_calm, is_edit
+from echofields.codes import filling_of, is_over, moment_of, plan_of
+from echofields.evidence import are_closed, closed_codes, codes_read, end_or_none, is_asked
+from echofields.forms import fillings, is_edit, rests_at
 from echofields.kinds import is_ascending, is_tuple_of
-from echofields.orders import first_order, moments_ahead, moments_behind, over_moments, spread
-from echofields.reaches import beginnings, first_beginning, firings_from, starts_of
-from echofields.runs import begin, is_moment
+from echofields.orders import codes_ahead, first_order, over_codes, spread
+from echofields.reaches import beginning_at, check_reach, firings_from, moments_told, start_codes, starts_of
 
 
 def find_uncalm(form, *, calm=False):
     """Return the least asked beginning with an order to an end that is not calm, or all moments."""
-    asked = beginnings(form, calm=calm)
-    firings = firings_from(form, asked)
-    goals = {moment: True for moment in over_moments(firings) if not is_calm(form, moment[1])}
-    found = _first_to(form, asked, firings, goals)
+    plan = plan_of(form)
+    starts = starts_of(form, plan, calm)
+    firings = firings_from(plan, list(starts.values()))
+    restless = _restless(form)
+    goals = {code: True for code in over_codes(firings) if filling_of(plan, code) in restless}
+    found = _first_to(starts, firings, goals)
     if found is None:
-        return ("closed", tuple(sorted(firings)))
+        return ("closed", moments_told(plan, firings))
     return found
 
 
 def uncalm_holds(form, value, *, calm=False):
     """Tell whether value is evidence of an end that is not calm, or that there is none."""
-    asked = asked_in_reach(form, calm)
+    check_reach(form, calm)
     if is_tuple_of(value, 4):
         end = _end_told(form, value, calm)
-        return end is not None and not is_calm(form, end)
+        return end is not None and not rests_at(form, end)
     if is_tuple_of(value, 2) and value[0] == "closed":
-        return are_closed(form, asked, value[1]) and _end_calm(form, value[1])
+        plan = plan_of(form)
+        codes = closed_codes(plan, start_codes(form, plan, calm), value[1])
+        return codes is not None and _end_calm(form, plan, codes)
     return False
 
 
 def find_overruled(form, *, calm=False):
     """Return the least asked beginning with an overruled order, or all moments with the values of their edits."""
-    asked = beginnings(form, calm=calm)
-    firings = firings_from(form, asked)
-    groups = _by_value(asked)
+    plan = plan_of(form)
+    starts = starts_of(form, plan, calm)
+    firings = firings_from(plan, list(starts.values()))
+    groups = _by_value(starts)
     found = []
-    for item in groups:
-        goals = {moment: True for moment in over_moments(firings) if _overrules(moment, item)}
-        told = _first_to(form, groups[item], firings, goals)
+    for item, group in groups.items():
+        goals = {code: True for code in over_codes(firings) if _overrules(plan, code, item)}
+        told = _first_to(group, firings, goals)
         if told is not None:
             found.append(told)
     if found == []:
-        return ("closed", _value_rows(form, groups, firings))
+        return ("closed", _value_rows(plan, groups, firings))
     # They differ in their beginnings, so these alone decide.
     return min(found)
 
 
 def overruled_holds(form, value, *, calm=False):
     """Tell whether value is evidence of an overruled order, or that there is none."""
-    asked = asked_in_reach(form, calm)
+    check_reach(form, calm)
     if is_tuple_of(value, 4):
         end = _end_told(form, value, calm)
         return end is not None and not _has_value(end, value[2])
     if is_tuple_of(value, 2) and value[0] == "closed":
-        return _are_value_rows(form, value[1]) and _stay_ruled(form, asked, value[1])
+        plan = plan_of(form)
+        rows = _rows_by_value(form, plan, value[1])
+        return rows is not None and _stay_ruled(plan, _by_value(starts_of(form, plan, calm)), rows)
     return False
 
 
-def _first_to(form, asked, firings, goals):
+def _restless(form):
+    """Return a dict whose keys are the fillings that are not calm."""
+    return {filling: True for filling in fillings(form) if not rests_at(form, filling)}
+
+
+def _first_to(starts, firings, goals):
     """Return the first of the beginnings from which an order leads to a goal, with the order; None if there is none."""
-    found = first_beginning(form, asked, spread(moments_ahead(firings), goals))
+    found = beginning_at(starts, spread(codes_ahead(firings), goals))
     if found is None:
         return None
     filling, edit = found
-    return ("order", filling, edit, first_order(firings, begin(form, filling, edit), goals))
+    return ("order", filling, edit, first_order(firings, starts[found], goals))
 
 
 def _end_told(form, value, calm):
@@ -76,8 +88,9 @@ def _end_told(form, value, calm):
     return end_or_none(form, filling, edit, order)
 
 
-def _end_calm(form, moments):
-    return all([moment[2] != () or is_calm(form, moment[1]) for moment in moments])
+def _end_calm(form, plan, codes):
+    restless = _restless(form)
+    return not any([is_over(code) and filling_of(plan, code) in restless for code in codes])
 
 
 def _has_value(filling, edit):
@@ -85,45 +98,51 @@ def _has_value(filling, edit):
     return filling[edit[0]] == edit[1]
 
 
-def _overrules(moment, item):
-    """Tell whether the run is over at the moment and its edited field has another value than the edit gave it."""
-    return moment[2] == () and not _has_value(moment[1], (moment[0], item))
+def _overrules(plan, code, item):
+    """Tell whether the run is over at the code and its edited field has another value than the edit gave it."""
+    field, filling, pending, _ = moment_of(plan, code)
+    return pending == () and filling[field] != item
 
 
-def _by_value(asked):
-    """Return a dict with the list of the beginnings for each value that their edits have."""
+def _by_value(starts):
+    """Return a dict with the beginnings for each value that their edits have, and the code at which each starts."""
     groups = {}
-    for filling, edit in asked:
-        groups.setdefault(edit[1], []).append((filling, edit))
+    for beginning, code in starts.items():
+        groups.setdefault(beginning[1][1], {})[beginning] = code
     return groups
 
 
-def _value_rows(form, groups, firings):
-    behind = moments_behind(firings)
+def _value_rows(plan, groups, firings):
+    behind = {code: list(firings[code].values()) for code in firings}
     rows = []
     for item in sorted(groups):
-        rows.extend([(item, moment) for moment in sorted(spread(behind, starts_of(form, groups[item])))])
+        reached = spread(behind, list(groups[item].values()))
+        rows.extend([(item, moment) for moment in moments_told(plan, reached)])
     return tuple(rows)
 
 
-def _are_value_rows(form, value):
+def _rows_by_value(form, plan, value):
+    """Return a dict with the codes that stand beside each value, None if value has not ascending pairs of such."""
     if not isinstance(value, tuple) or len(value) > MAX_SIZE * MAX_MOMENTS:
-        return False
-    return all([_is_value_row(form, row) for row in value]) and is_ascending(value)
+        return None
+    if not all([is_tuple_of(row, 2) for row in value]):
+        return None
+    codes = codes_read(plan, [row[1] for row in value])
+    if codes is None or not all([is_edit(form, (row[1][0], row[0])) for row in value]) or not is_ascending(value):
+        return None
+    groups = {}
+    for (item, _), code in zip(value, codes):
+        groups.setdefault(item, []).append(code)
+    return groups
 
 
-def _is_value_row(form, value):
-    if not is_tuple_of(value, 2):
-        return False
-    item, moment = value
-    return is_moment(form, moment) and is_edit(form, (moment[0], item))
-
-
-def _stay_ruled(form, asked, rows):
+def _stay_ruled(plan, asked, rows):
     """Tell whether the rows have all that asked runs come to, and no run that is overruled."""
-    known = {row: True for row in rows}
-    if not all([(edit[1], begin(form, filling, edit)) in known for filling, edit in asked]):
+    if not all([item in rows for item in asked]):
         return False
-    if not all([(item, behind) in known for item, moment in rows for behind in moments_fired(form, moment)]):
-        return False
-    return not any([_overrules(moment, item) for item, moment in rows])
+    for item, codes in rows.items():
+        if not are_closed(plan, list(asked.get(item, {}).values()), codes):
+            return False
+        if any([is_over(code) and _overrules(plan, code, item) for code in codes]):
+            return False
+    return True

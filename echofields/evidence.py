@@ -1,23 +1,16 @@
 """What the functions that judge evidence share."""
 
 from echofields.bounds import MAX_MOMENTS
+from echofields.codes import PLACE, SPENT, codes_behind
 from echofields.errors import BadOrder
-from echofields.forms import is_calm, is_edit, is_filling
-from echofields.kinds import is_ascending, is_tuple_of
-from echofields.reaches import beginnings, firings_from, starts_of
-from echofields.runs import begin, fired, is_moment, moment_after
-
-
-def asked_in_reach(form, calm):
-    """Return the asked beginnings, or raise TooManyMoments if it is due for them."""
-    asked = beginnings(form, calm=calm)
-    firings_from(form, asked)
-    return asked
+from echofields.forms import is_edit, is_filling, rests_at
+from echofields.kinds import are_whole, is_ascending, is_index, is_natural, is_tuple_of
+from echofields.runs import begin, moment_after
 
 
 def is_asked(form, filling, edit, calm):
     """Tell whether this is an asked beginning."""
-    return is_filling(form, filling) and is_edit(form, edit) and (not calm or is_calm(form, filling))
+    return is_filling(form, filling) and is_edit(form, edit) and (not calm or rests_at(form, filling))
 
 
 def moment_or_none(form, moment, value):
@@ -36,41 +29,90 @@ def end_or_none(form, filling, edit, value):
     return moment[1]
 
 
-def moments_fired(form, moment):
-    """Return the list of the moments behind each firing at a moment."""
-    return [fired(form, moment, link) for link in moment[2]]
+def goes_round(form, filling, edit, order, ring):
+    """Tell whether an order leads from a beginning to a moment to which the ring leads back."""
+    moment = moment_or_none(form, begin(form, filling, edit), order)
+    return moment is not None and ring != () and moment_or_none(form, moment, ring) == moment
 
 
-def are_moments(form, value):
-    """Tell whether value is an ascending tuple of at most MAX_MOMENTS moments."""
+def are_heights(plan, starts, value):
+    """Tell whether value has rows of moments and integers that show that no run from the starts is endless."""
+    heights = rows_read(plan, value)
+    if heights is None or not all([is_natural(height) for height in heights.values()]):
+        return False
+    if not all([start in heights for start in starts]):
+        return False
+    return all([
+        heights.get(behind, height) < height for code, height in heights.items() for behind in codes_behind(plan, code)
+    ])
+
+
+def closed_codes(plan, starts, value):
+    """Return the list of the codes of moments, at most MAX_MOMENTS and ascending, that no run from the starts leaves.
+
+    They have each start, and with each moment the one behind each firing. Return None if value has not such moments.
+    """
     if not isinstance(value, tuple) or len(value) > MAX_MOMENTS:
+        return None
+    codes = ascending_codes(plan, value)
+    if codes is None or not are_closed(plan, starts, codes):
+        return None
+    return codes
+
+
+def are_closed(plan, starts, codes):
+    """Tell whether each start is among the codes, and with each of them what is behind each firing."""
+    known = {code: True for code in codes}
+    if not all([start in known for start in starts]):
         return False
-    return all([is_moment(form, item) for item in value]) and is_ascending(value)
+    return all([behind in known for code in codes for behind in codes_behind(plan, code)])
 
 
-def are_rows(form, asked, value):
-    """Tell whether value is an ascending tuple of at most MAX_MOMENTS pairs of a moment and something.
+def rows_read(plan, value):
+    """Return a dict with the codes of moments and what stands beside them.
 
-    No moment stands in it twice, and the moment at which each asked run begins has a pair.
+    Return None if value is not an ascending tuple of at most MAX_MOMENTS pairs of a moment and something, with no
+    moment twice.
     """
-    if not isinstance(value, tuple) or not all([is_tuple_of(row, 2) for row in value]):
+    if not isinstance(value, tuple) or len(value) > MAX_MOMENTS or not all([is_tuple_of(row, 2) for row in value]):
+        return None
+    codes = ascending_codes(plan, [row[0] for row in value])
+    if codes is None:
+        return None
+    return dict(zip(codes, [row[1] for row in value]))
+
+
+def ascending_codes(plan, values):
+    """Return the list of the codes of ascending moments, None if the values are not such."""
+    codes = codes_read(plan, values)
+    return codes if codes is not None and is_ascending(values) else None
+
+
+def codes_read(plan, values):
+    """Return the list of the codes of some moments, None if one of the values is no moment."""
+    rows, sets, _, outs, once = plan
+    numbers = {filling: number for number, filling in enumerate(rows)}
+    bits = {links: place for place, links in enumerate(sets)}
+    codes = []
+    for value in values:
+        # Only what surely has nothing but integers can be looked up.
+        if not _has_integers(value):
+            return None
+        field, filling, pending, spent = value
+        if not (is_index(field, len(outs)) and filling in numbers and pending in bits and spent in bits):
+            return None
+        if bits[spent] & (bits[pending] | ~once) != 0:
+            return None
+        place = field * len(rows) + numbers[filling]
+        codes.append((place << PLACE) + (bits[spent] << SPENT) + bits[pending])
+    return codes
+
+
+def _has_integers(value):
+    """Tell whether value has the parts of a moment: an integer and three tuples of integers."""
+    if not is_tuple_of(value, 4):
         return False
-    moments = tuple([row[0] for row in value])
-    return are_moments(form, moments) and has_starts(form, asked, moments)
-
-
-def are_closed(form, asked, value):
-    """Tell whether value is an ascending tuple of at most MAX_MOMENTS moments that no asked run leaves.
-
-    It has the moment at which each asked run begins, and with each of its moments the one behind each firing.
-    """
-    if not are_moments(form, value) or not has_starts(form, asked, value):
+    field, filling, pending, spent = value
+    if not (isinstance(filling, tuple) and isinstance(pending, tuple) and isinstance(spent, tuple)):
         return False
-    known = {moment: True for moment in value}
-    return all([behind in known for moment in value for behind in moments_fired(form, moment)])
-
-
-def has_starts(form, asked, moments):
-    """Tell whether the moment at which each asked run begins is among the moments."""
-    known = {moment: True for moment in moments}
-    return all([start in known for start in starts_of(form, asked)])
+    return are_whole((field, *filling, *pending, *spent))

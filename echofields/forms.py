@@ -55,6 +55,14 @@ def fillings(form):
     return tuple(rows)
 
 
+def product_of(numbers):
+    """Return the product of some integers, 1 for none."""
+    result = 1
+    for number in numbers:
+        result = result * number
+    return result
+
+
 def is_filling(form, value):
     """Tell whether value is a filling of the form."""
     sizes = form[0]
@@ -105,7 +113,13 @@ def loud_links(form, filling):
 
 def is_calm(form, filling):
     """Tell whether no link is loud at the filling."""
-    return loud_links(form, filling) == ()
+    check_filling(form, filling)
+    return rests_at(form, filling)
+
+
+def rests_at(form, filling):
+    """Return what is_calm does; this asks for a filling, and doesn't check it."""
+    return not any([is_loud(link, filling) for link in form[1]])
 
 
 def field_ring(form):
@@ -133,14 +147,7 @@ def _are_sizes(value):
         return False
     if not all([is_whole(size) and 2 <= size <= MAX_SIZE for size in value]):
         return False
-    return _product(value) <= MAX_FILLINGS
-
-
-def _product(numbers):
-    result = 1
-    for number in numbers:
-        result = result * number
-    return result
+    return product_of(value) <= MAX_FILLINGS
 
 
 def _is_table(value, many, size):

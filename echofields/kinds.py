@@ -3,7 +3,16 @@
 
 def is_whole(value):
     """Tell whether value is an integer; True and False are none."""
-    return isinstance(value, int) and not isinstance(value, bool)
+    return value is not True and value is not False and isinstance(value, int)
+
+
+def are_whole(items):
+    """Tell whether all items are integers."""
+    for item in items:
+        # Evidence has very many of them, so is_whole stands here once more without a call.
+        if item is True or item is False or not isinstance(item, int):
+            return False
+    return True
 
 
 def is_natural(value):

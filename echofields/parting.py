@@ -1,74 +1,58 @@
 """Orders of one beginning that have several ends."""
 
-from echofields.evidence import are_rows, asked_in_reach, end_or_none, is_asked, moments_fired
-from echofields.forms import is_filling
-from echofields.kinds import is_tuple_of
-from echofields.orders import first_order, moments_ahead, over_moments, spread
-from echofields.reaches import beginnings, first_beginning, firings_from
-from echofields.runs import begin
+from echofields.codes import codes_behind, filling_of, in_order, is_over, moment_of, plan_of
+from echofields.evidence import end_or_none, is_asked, rows_read
+from echofields.forms import fillings
+from echofields.kinds import are_whole, is_tuple_of
+from echofields.orders import code_behind, end_bits, first_order, over_codes
+from echofields.reaches import beginning_at, check_reach, firings_from, start_at, start_codes, starts_of
 
 
 def ends_of(form, filling, edit):
     """Return the ascending tuple of the ends of all whole orders from a beginning."""
-    return _ends_at(over_moments(firings_from(form, ((filling, edit),))))
+    plan = plan_of(form)
+    firings = firings_from(plan, [start_at(form, plan, filling, edit)])
+    return tuple(sorted({filling_of(plan, code) for code in over_codes(firings)}))
 
 
 def find_parting(form, *, calm=False):
     """Return the least asked beginning with two ends and an order to each, or the end of all moments."""
-    asked = beginnings(form, calm=calm)
-    firings = firings_from(form, asked)
-    ends = _ends_behind(firings)
-    parted = {moment: True for moment in firings if len(ends[moment]) > 1}
-    found = first_beginning(form, asked, parted)
+    plan = plan_of(form)
+    starts = starts_of(form, plan, calm)
+    firings = firings_from(plan, list(starts.values()))
+    bits = end_bits(plan, firings)
+    # Where there is more than one bit, some are left without the lowest one.
+    found = beginning_at(starts, {code: True for code in firings if bits[code] & (bits[code] - 1) != 0})
     if found is None:
-        return ("ends", tuple([(moment, _only_end(ends[moment])) for moment in sorted(firings)]))
+        rows = fillings(form)
+        return ("ends", tuple([(moment_of(plan, code), _only_end(rows, bits[code])) for code in in_order(plan, bits)]))
     filling, edit = found
-    one, other = _parting_orders(firings, begin(form, filling, edit))
+    one, other = _parting_orders(plan, firings, starts[found])
     return ("orders", filling, edit, one, other)
 
 
 def parting_holds(form, value, *, calm=False):
     """Tell whether value is evidence of a beginning with two ends, or that there is none."""
-    asked = asked_in_reach(form, calm)
+    check_reach(form, calm)
     if is_tuple_of(value, 5) and value[0] == "orders":
         _, filling, edit, one, other = value
         return is_asked(form, filling, edit, calm) and _do_part(form, filling, edit, one, other)
     if is_tuple_of(value, 2) and value[0] == "ends":
-        return _are_ends(form, asked, value[1])
+        plan = plan_of(form)
+        return _are_ends(plan, start_codes(form, plan, calm), value[1])
     return False
 
 
-def _ends_at(moments):
-    return tuple(sorted({moment[1] for moment in moments}))
+def _only_end(rows, bits):
+    return None if bits == 0 else rows[bits.bit_length() - 1]
 
 
-def _ends_behind(firings):
-    """Return a dict with the ascending tuple of the ends of all whole orders from each moment."""
-    ahead = moments_ahead(firings)
-    over = over_moments(firings)
-    ends = {moment: () for moment in firings}
-    for end in _ends_at(over):
-        for moment in spread(ahead, [last for last in over if last[1] == end]):
-            ends[moment] = ends[moment] + (end,)
-    return ends
-
-
-def _only_end(ends):
-    return None if ends == () else ends[0]
-
-
-def _parting_orders(firings, start):
-    over = over_moments(firings)
-    one = first_order(firings, start, {moment: True for moment in over})
-    end = _end_behind(firings, start, one)
-    other = first_order(firings, start, {moment: True for moment in over if moment[1] != end})
-    return (one, other)
-
-
-def _end_behind(firings, moment, order):
-    for link in order:
-        moment = firings[moment][link]
-    return moment[1]
+def _parting_orders(plan, firings, start):
+    """Return the first whole order of all, and the first one of those with another end."""
+    over = over_codes(firings)
+    one = first_order(firings, start, {code: True for code in over})
+    end = filling_of(plan, code_behind(firings, start, one))
+    return (one, first_order(firings, start, {code: True for code in over if filling_of(plan, code) != end}))
 
 
 def _do_part(form, filling, edit, one, other):
@@ -76,18 +60,26 @@ def _do_part(form, filling, edit, one, other):
     return None not in ends and ends[0] != ends[1]
 
 
-def _are_ends(form, asked, value):
-    if not are_rows(form, asked, value):
+def _are_ends(plan, starts, value):
+    """Tell whether value has rows of moments and ends that show that no two runs from a start end otherwise."""
+    ends = rows_read(plan, value)
+    if ends is None or not all([start in ends for start in starts]):
         return False
-    if not all([end is None or is_filling(form, end) for _, end in value]):
+    rows, _, _, _, _ = plan
+    known = {filling: True for filling in rows}
+    if not all([end is None or _is_among(known, end) for end in ends.values()]):
         return False
-    ends = {moment: end for moment, end in value}
-    return all([_is_kept(form, ends, moment) for moment in ends])
+    return all([_is_kept(plan, ends, code) for code in ends])
 
 
-def _is_kept(form, ends, moment):
-    """Tell whether the end that is told for a moment fits what is told for the moments right behind it."""
-    end = ends[moment]
-    if moment[2] == ():
-        return end == moment[1]
-    return all([behind in ends and ends[behind] in (end, None) for behind in moments_fired(form, moment)])
+def _is_among(fillings, value):
+    """Tell whether value is one of the fillings that are the keys of a dict."""
+    return isinstance(value, tuple) and are_whole(value) and value in fillings
+
+
+def _is_kept(plan, ends, code):
+    """Tell whether the end that is told for a code fits what is told for those right behind it."""
+    end = ends[code]
+    if is_over(code):
+        return end == filling_of(plan, code)
+    return all([ends.get(behind, False) in (end, None) for behind in codes_behind(plan, code)])

@@ -8,14 +8,18 @@ from echofields.kinds import is_ascending, is_index, is_tuple_of, is_whole
 
 def begin(form, filling, edit):
     """Return the moment at which the run of an edit of a filling begins."""
-    check_filling(form, filling)
-    if not is_edit(form, edit):
-        raise BadEdit(edit)
+    check_beginning(form, filling, edit)
     field, item = edit
     if filling[field] == item:
         return (field, filling, (), ())
-    pending = [link for link in range(len(form[1])) if form[1][link][0] == field]
-    return (field, _filling_with(filling, field, item), tuple(pending), ())
+    return (field, filling_with(filling, edit), tuple(links_out(form, field)), ())
+
+
+def check_beginning(form, filling, edit):
+    """Raise BadFilling or BadEdit if these are not a filling and an edit of the form."""
+    check_filling(form, filling)
+    if not is_edit(form, edit):
+        raise BadEdit(edit)
 
 
 def is_moment(form, value):
@@ -35,6 +39,17 @@ def are_links(form, value):
     if not isinstance(value, tuple) or not all([is_index(link, len(form[1])) for link in value]):
         return False
     return is_ascending(value)
+
+
+def links_out(form, field):
+    """Return the list of the links whose source is the field."""
+    return [link for link in range(len(form[1])) if form[1][link][0] == field]
+
+
+def filling_with(filling, edit):
+    """Return the filling in which the field of an edit has the value of the edit, and no link has fired."""
+    field, item = edit
+    return filling[:field] + (item,) + filling[field + 1:]
 
 
 def is_once(link):
@@ -71,8 +86,8 @@ def fired(form, moment, link):
     target = links[link][1]
     if not is_loud(links[link], filling) or (is_shy(links[link]) and target == field):
         return (field, filling, pending, spent)
-    filling = _filling_with(filling, target, wish_of(links[link], filling))
-    woken = [other for other in range(len(links)) if links[other][0] == target and other not in spent]
+    filling = filling_with(filling, (target, wish_of(links[link], filling)))
+    woken = [other for other in links_out(form, target) if other not in spent]
     return (field, filling, tuple(sorted(set(pending) | set(woken))), spent)
 
 
@@ -83,8 +98,27 @@ def moment_behind(form, filling, edit, order):
 
 def moment_after(form, moment, order):
     """Return the moment behind an order that leads on from a moment."""
-    moments = list(walk_from(form, moment, order))
-    return moments[-1]
+    _check_length(order)
+    field, filling, pending, spent = moment
+    values = list(filling)
+    waiting = {link: True for link in pending}
+    done = {link: True for link in spent}
+    # Evidence has very many links, so what each of them does is looked up but once.
+    acts = [_act(form, field, link) for link in range(len(form[1]))]
+    for place, link in enumerate(order):
+        if link is True or link is False or not isinstance(link, int) or link not in waiting:
+            raise BadOrder(place)
+        source, target, table, once, woken = acts[link]
+        del waiting[link]
+        if once:
+            done[link] = True
+        wished = table[values[source]]
+        if wished is not None and wished != values[target]:
+            values[target] = wished
+            for other in woken:
+                if other not in done:
+                    waiting[other] = True
+    return (field, tuple(values), tuple(sorted(waiting)), tuple(sorted(done)))
 
 
 def walk_order(form, filling, edit, order):
@@ -95,8 +129,7 @@ def walk_order(form, filling, edit, order):
 
 def walk_from(form, moment, order):
     """Yield a moment, then the one behind each link of an order that leads on from it."""
-    if not isinstance(order, tuple) or len(order) > MAX_MOMENTS:
-        raise BadOrder(None)
+    _check_length(order)
     yield moment
     for place, link in enumerate(order):
         if not is_pending(moment, link):
@@ -125,5 +158,14 @@ def least_run(form, filling, edit):
     return ("end", moment[1], tuple(order))
 
 
-def _filling_with(filling, field, item):
-    return filling[:field] + (item,) + filling[field + 1:]
+def _check_length(order):
+    if not isinstance(order, tuple) or len(order) > MAX_MOMENTS:
+        raise BadOrder(None)
+
+
+def _act(form, field, link):
+    """Return the source, the target and the table of a link, whether it is a once link, and the links that it wakes."""
+    source, target, table, _ = form[1][link]
+    if is_shy(form[1][link]) and target == field:
+        table = (None,) * len(table)
+    return (source, target, table, is_once(form[1][link]), links_out(form, target))

@@ -19,8 +19,10 @@ ALL_BUILTINS = set(vars(builtins)) - {"_"}
 BARRED = set("register mro elements open input law typing enum namedtuple dataclass overload contextmanager".split())
 
 MODIFYING = {"append", "extend", "pop", "setdefault"}
-# The methods that are called: of lists, dicts and strings, and two of Fields.
-CALLED = MODIFYING | {"items", "values", "join", "split", "partition", "isascii", "isdigit", "refill", "_do"}
+# The methods that are called: of integers, lists, dicts and strings, and two of Fields.
+CALLED = MODIFYING | {
+    "bit_length", "index", "get", "items", "values", "join", "split", "partition", "isascii", "isdigit", "refill", "_do",
+}
 
 
 def nodes(file, *kinds):
