@@ -13,13 +13,14 @@ PLACE = 12
 
 
 def plan_of(form):
-    """Return what the other functions need of a form: a plan (rows, sets, fires, outs, once).
+    """Return what the other functions need of a form: a plan (rows, numbers, sets, fires, outs, once).
 
-    rows are its fillings; sets has for each set of links, told by its bits, these links; fires has for each set what
-    the firing of each of its links does; outs has for each field the bits of the links whose source it is; once has
-    the bits of the once links.
+    rows are its fillings, and numbers has the number of each; sets has for each set of links, told by its bits, these
+    links; fires has for each set what the firing of each of its links does; outs has for each field the bits of the
+    links whose source it is; once has the bits of the once links.
     """
     rows = fillings(form)
+    numbers = {filling: number for number, filling in enumerate(rows)}
     outs = [_bits([link[0] == field for link in form[1]]) for field in range(len(form[0]))]
     sets = [()]
     fires = [[]]
@@ -27,12 +28,12 @@ def plan_of(form):
         firing = _firing(form, rows, outs, link)
         sets = sets + [links + (link,) for links in sets]
         fires = fires + [firings + [firing] for firings in fires]
-    return (rows, sets, fires, outs, _bits([is_once(link) for link in form[1]]))
+    return (rows, numbers, sets, fires, outs, _bits([is_once(link) for link in form[1]]))
 
 
 def codes_behind(plan, code):
     """Return the list of the codes behind each firing at a code, in the ascending order of the links."""
-    _, _, fires, _, _ = plan
+    _, _, _, fires, _, _ = plan
     place = code >> PLACE
     found = []
     for drop, jumps, woken in fires[code & LINKS]:
@@ -45,21 +46,21 @@ def codes_behind(plan, code):
 
 def links_at(plan, code):
     """Return the ascending tuple of the pending links at a code."""
-    _, sets, _, _, _ = plan
+    _, _, sets, _, _, _ = plan
     return sets[code & LINKS]
 
 
 def start_code(plan, filling, edit):
     """Return the code of the moment at which the run of an edit of a filling begins."""
-    rows, _, _, outs, _ = plan
+    rows, numbers, _, _, outs, _ = plan
     field, item = edit
-    place = field * len(rows) + rows.index(filling_with(filling, edit))
+    place = field * len(rows) + numbers[filling_with(filling, edit)]
     return (place << PLACE) + (0 if filling[field] == item else outs[field])
 
 
 def all_start_codes(plan):
     """Return a list of the codes at which the runs of all beginnings start."""
-    rows, _, _, outs, _ = plan
+    rows, _, _, _, outs, _ = plan
     # Each filling is left as it is by some edit of each field, and by another one each comes of some other filling.
     places = [(field * len(rows) + number, bits) for field, bits in enumerate(outs) for number in range(len(rows))]
     return [(place << PLACE) + pending for place, bits in places for pending in (0, bits)]
@@ -67,20 +68,20 @@ def all_start_codes(plan):
 
 def moment_of(plan, code):
     """Return the moment that has this code."""
-    rows, sets, _, _, _ = plan
+    rows, _, sets, _, _, _ = plan
     field, number = divmod(code >> PLACE, len(rows))
     return (field, rows[number], sets[code & LINKS], sets[code >> SPENT & LINKS])
 
 
 def number_of(plan, code):
     """Return the number of the filling of the moment that has this code."""
-    rows, _, _, _, _ = plan
+    rows, _, _, _, _, _ = plan
     return (code >> PLACE) % len(rows)
 
 
 def filling_of(plan, code):
     """Return the filling of the moment that has this code."""
-    rows, _, _, _, _ = plan
+    rows, _, _, _, _, _ = plan
     return rows[number_of(plan, code)]
 
 
@@ -91,7 +92,7 @@ def is_over(code):
 
 def in_order(plan, codes):
     """Return the list of the codes in the ascending order of their moments."""
-    _, sets, _, _, _ = plan
+    _, _, sets, _, _, _ = plan
     ranks = [0] * len(sets)
     for rank, bits in enumerate(sorted(range(len(sets)), key=lambda place: sets[place])):
         ranks[bits] = rank

@@ -90,8 +90,7 @@ def ascending_codes(plan, values):
 
 def codes_read(plan, values):
     """Return the list of the codes of some moments, None if one of the values is no moment."""
-    rows, sets, _, outs, once = plan
-    numbers = {filling: number for number, filling in enumerate(rows)}
+    rows, numbers, sets, _, outs, once = plan
     bits = {links: place for place, links in enumerate(sets)}
     codes = []
     for value in values:

@@ -55,6 +55,11 @@ def fillings(form):
     return tuple(rows)
 
 
+def all_edits(form):
+    """Return the ascending list of all edits."""
+    return [(field, item) for field, size in enumerate(form[0]) for item in range(size)]
+
+
 def product_of(numbers):
     """Return the product of some integers, 1 for none."""
     result = 1
@@ -77,6 +82,12 @@ def is_edit(form, value):
         return False
     field, item = value
     return is_index(field, len(form[0])) and is_index(item, form[0][field])
+
+
+def left_out(form, links):
+    """Return the form without some of its links; those behind them move up."""
+    sizes, rows = form
+    return (sizes, tuple([link for index, link in enumerate(rows) if index not in links]))
 
 
 def check_filling(form, filling):

@@ -47,6 +47,20 @@ def end_bits(plan, firings):
     return bits
 
 
+def endless_codes(firings):
+    """Return a dict whose keys are the codes from which a run is endless."""
+    ahead = codes_ahead(firings)
+    missing = {code: len(firings[code]) for code in firings}
+    ready = list(over_codes(firings))
+    while ready != []:
+        code = ready.pop()
+        for earlier in ahead[code]:
+            missing[earlier] = missing[earlier] - 1
+            if missing[earlier] == 0:
+                ready.append(earlier)
+    return {code: True for code in firings if missing[code] > 0}
+
+
 def code_behind(firings, code, order):
     """Return the code behind an order from a code."""
     for link in order:

@@ -65,9 +65,8 @@ def _are_ends(plan, starts, value):
     ends = rows_read(plan, value)
     if ends is None or not all([start in ends for start in starts]):
         return False
-    rows, _, _, _, _ = plan
-    known = {filling: True for filling in rows}
-    if not all([end is None or _is_among(known, end) for end in ends.values()]):
+    _, numbers, _, _, _, _ = plan
+    if not all([end is None or _is_among(numbers, end) for end in ends.values()]):
         return False
     return all([_is_kept(plan, ends, code) for code in ends])
 

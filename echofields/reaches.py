@@ -3,15 +3,14 @@
 from echofields.bounds import MAX_MOMENTS
 from echofields.codes import all_start_codes, codes_behind, in_order, links_at, moment_of, plan_of, start_code
 from echofields.errors import TooManyMoments
-from echofields.forms import fillings, product_of, rests_at
+from echofields.forms import all_edits, fillings, product_of, rests_at
 from echofields.runs import check_beginning, is_once
 
 
 def beginnings(form, *, calm=False):
     """Return the ascending tuple of all beginnings, or of the calm ones alone."""
-    edits = [(field, item) for field, size in enumerate(form[0]) for item in range(size)]
     rows = [filling for filling in fillings(form) if not calm or rests_at(form, filling)]
-    return tuple([(filling, edit) for filling in rows for edit in edits])
+    return tuple([(filling, edit) for filling in rows for edit in all_edits(form)])
 
 
 def reached(form, *, calm=False):

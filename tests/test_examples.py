@@ -76,6 +76,55 @@ COUNTING = """
 [(0, 1, 2), (0, 1, 2), None]
 """
 
+RULES = """
+>>> from echofields.rules import rules_part, run_by, walk_rule
+>>> [run_by(Q, (0, 0, 0), (0, 1), rule) for rule in ("queue", "stack", "least")]
+[('end', (1, 1, 0), (0, 1, 2)), ('end', (1, 1, 1), (0, 2, 1)), ('end', (1, 1, 0), (0, 1, 2))]
+>>> [run_by(T, (0, 0), (1, 1), "queue"), rules_part(Q, "queue", "stack"), rules_part(Q, "queue", "least")]
+[('endless', (), (1, 0, 1, 0)), ((0, 0, 0), (0, 1)), None]
+>>> list(walk_rule(Q, (0, 0, 0), (0, 1), "stack"))[1]
+((0, (1, 1, 0), (1, 2), ()), (2, 1))
+>>> [moment[1] for moment, line in walk_rule(T, (0, 0), (1, 1), "queue")]
+[(0, 1), (1, 1), (1, 0), (0, 0), (0, 1)]
+"""
+
+TELLING = """
+>>> from echofields.telling import calm_fillings, find_telling, least_differences, least_keys, tellers
+>>> S = ((2, 3), ((0, 1, (None, 2), 1),))
+>>> C = ((3, 3, 2), ((0, 1, (0, 2, 2), 0), (1, 2, (0, None, 1), 0), (1, 0, (0, 1, 2), 2)))
+>>> [calm_fillings(S), find_telling(S, (1,), 0), find_telling(S, (0, 1), 1)[1][3]]
+[((0, 0), (0, 1), (0, 2), (1, 2)), ('parted', (0, 2), (1, 2)), ((1, 2), 2)]
+>>> [calm_fillings(C), find_telling(C, (2,), 0), tellers(C, 0), tellers(S, 0)]
+[((0, 0, 0), (2, 2, 1)), ('told', (((0,), 0), ((1,), 2))), ((1,), (2,)), ()]
+>>> [least_keys(C), least_differences(C), least_keys(S), least_differences(S)]
+[((0,), (1,), (2,)), ((0, 1, 2),), ((0, 1),), ((0,), (1,))]
+"""
+
+SETTLED = """
+>>> from echofields.settled import find_row, find_stuck, find_swap, find_unsettled, led_to, rooms
+>>> U = ((2, 2), ((0, 1, (0, 1), 0), (1, 0, (0, 1), 0)))
+>>> T = ((2, 2), ((0, 1, (1, 0), 0), (1, 0, (0, 1), 0)))
+>>> [find_unsettled(S), find_unsettled(U), find_unsettled(T), led_to(S, (0, 1), ((0, 1), (1, 0)))]
+[None, None, ((0, 0), (1, 1)), (1, 0)]
+>>> [find_row(S, (0, 0), (1, 1)), find_row(U, (0, 0), (0, 1))]
+[('row', ((0, 1), (1, 1)), (2, 2, 2, 1, 0, 1)), ('closed', ((0, 0), (1, 1)))]
+>>> [find_swap(S, (0, 1), (1, 0)), find_stuck(S, (0, 0)), find_stuck(S, (1, 0)), rooms(U)]
+[(0, 0), (1, 0), None, (((0, 0), (1, 1)), ((0, 1),), ((1, 0),))]
+"""
+
+LIKENESS = """
+>>> from echofields.likeness import difference_holds, find_difference, idle_links, idle_sets
+>>> P = ((2, 2), ((0, 1, (0, 0), 0), (0, 1, (1, 1), 0)))
+>>> O = ((2, 2), ((0, 1, (1, 0), 0), (1, 0, (0, 1), 1)))
+>>> D = ((2, 2), ((0, 1, (0, 1), 0), (0, 1, (0, 1), 0)))
+>>> find_difference(P, ((2, 2), ((0, 1, (0, 0), 0),)))
+('end', (0, 0), (0, 1), 0, (0, 1), ((0, (1, 0), (), ()), (0, (1, 0), (0,), ())))
+>>> find_difference(T, O)
+('endless', (0, 0), (1, 1), 0, (), (1, 0, 1, 0), (((1, (0, 1), (1,), ()), 2), ((1, (1, 0), (), (1,)), 0), ((1, (1, 1), (0,), (1,)), 1)))
+>>> [idle_links(P), idle_links(D), idle_sets(D), find_difference(D, ((2, 2), ((0, 1, (0, 1), 2),)))]
+[(), (0, 1), ((0,), (1,)), None]
+"""
+
 
 class ExamplesTest(unittest.TestCase):
     def check(self, *examples):
@@ -92,7 +141,10 @@ class ExamplesTest(unittest.TestCase):
         self.check((FORMS, 5), (RUNS, 3), (FIELDS, 8))
 
     def test_section_b(self):
-        self.check((REACHES, 4), (ENDLESS, 4), (PARTING, 3), (ECHOES, 3), (COUNTING, 4))
+        self.check((REACHES, 4), (ENDLESS, 4), (PARTING, 3), (ECHOES, 3), (COUNTING, 4), (RULES, 5))
+
+    def test_sections_c_to_e(self):
+        self.check((TELLING, 6), (SETTLED, 6), (LIKENESS, 7))
 
 
 if __name__ == "__main__":

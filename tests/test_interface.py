@@ -36,7 +36,24 @@ FUNCTIONS = {
         "shortest_order": ONE, "longest_order": ONE, "many_orders": ONE, "order_at": ONE + ["number"],
         "order_number": ONE + ["order"],
     },
+    "rules": {
+        "run_by": ONE + ["rule"], "walk_rule": ONE + ["rule"], "rules_part": ["form", "one", "other", "*calm"],
+    },
+    "telling": {
+        "calm_fillings": ["form"], "find_telling": ["form", "fields", "field"], "tellers": ["form", "field"],
+        "least_keys": ["form"], "least_differences": ["form"], "telling_holds": ["form", "fields", "field", "value"],
+    },
+    "settled": {
+        "find_unsettled": ["form"], "led_to": ["form", "filling", "edits"], "find_row": ["form", "filling", "goal"],
+        "rooms": ["form"], "row_holds": ["form", "filling", "goal", "value"], "find_swap": ["form", "edit", "other"],
+        "find_stuck": ["form", "edit"],
+    },
+    "likeness": {
+        "find_difference": ["one", "other"], "difference_holds": ["one", "other", "value"], "idle_links": ["form"],
+        "idle_sets": ["form"],
+    },
 }
+GENERATORS = ("walk_order", "walk_rule")
 
 METHODS = {
     "__init__": ["form", "filling"], "refill": ["filling"], "copy": [], "__call__": ["edits"], "__getitem__": ["at"],
@@ -74,11 +91,11 @@ class InterfaceTest(unittest.TestCase):
                         expected_default = False if parameter.name == "calm" else parameter.empty
                         self.assertIs(parameter.default, expected_default)
 
-    def test_walk_order_alone_is_a_generator(self):
+    def test_generators(self):
         for module, functions in FUNCTIONS.items():
             for name in functions:
                 function = getattr(importlib.import_module(f"echofields.{module}"), name)
-                self.assertIs(inspect.isgeneratorfunction(function), name == "walk_order")
+                self.assertIs(inspect.isgeneratorfunction(function), name in GENERATORS)
 
     def test_the_class_fields_has_its_methods_itself(self):
         self.assertEqual(defined_in("fields").count("Fields"), 1)

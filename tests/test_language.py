@@ -21,7 +21,8 @@ BARRED = set("register mro elements open input law typing enum namedtuple datacl
 MODIFYING = {"append", "extend", "pop", "setdefault"}
 # The methods that are called: of integers, lists, dicts and strings, and two of Fields.
 CALLED = MODIFYING | {
-    "bit_length", "index", "get", "items", "values", "join", "split", "partition", "isascii", "isdigit", "refill", "_do",
+    "bit_length", "count", "index", "get", "items", "values", "join", "split", "partition", "isascii", "isdigit",
+    "refill", "_do",
 }
 
 
