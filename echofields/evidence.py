@@ -29,6 +29,14 @@ def end_or_none(form, filling, edit, value):
     return moment[1]
 
 
+def goes_on(form, value, calm):
+    """Tell whether value is ("endless", filling, edit, order, ring), and so shows an endless run that is asked."""
+    if not is_tuple_of(value, 5) or value[0] != "endless":
+        return False
+    _, filling, edit, order, ring = value
+    return is_asked(form, filling, edit, calm) and goes_round(form, filling, edit, order, ring)
+
+
 def goes_round(form, filling, edit, order, ring):
     """Tell whether an order leads from a beginning to a moment to which the ring leads back."""
     moment = moment_or_none(form, begin(form, filling, edit), order)

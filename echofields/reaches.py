@@ -28,9 +28,14 @@ def reached_from(form, filling, edit):
 def check_reach(form, calm):
     """Raise TooManyMoments if it is due for the asked beginnings."""
     # Mostly this is known without going through the moments.
-    if sum([_most_edited(form, field) for field in range(len(form[0]))]) > MAX_MOMENTS:
+    if may_be_many(form):
         plan = plan_of(form)
         codes_from(plan, start_codes(form, plan, calm))
+
+
+def may_be_many(form):
+    """Tell whether more than MAX_MOMENTS moments might be reached, as far as the number of links tells."""
+    return sum([_most_edited(form, field) for field in range(len(form[0]))]) > MAX_MOMENTS
 
 
 def check_reach_at(form, filling, edit):

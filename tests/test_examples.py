@@ -125,6 +125,52 @@ LIKENESS = """
 [(), (0, 1), ((0,), (1,)), None]
 """
 
+CURES = """
+>>> from echofields.cures import cures_hold, fewest_cure, find_cures, treated
+>>> [treated(T, "once", (1,)) == O, treated(T, "out", (0,)), fewest_cure(P, "out")]
+[True, ((2, 2), ((1, 0, (0, 1), 0),)), ()]
+>>> cures, others = find_cures(T, "out")
+>>> [[links for links, rows in cures], others, cures_hold(T, "out", (cures, others)), cures_hold(T, "out", (cures, ()))]
+[[(0,), (1,)], (((), ('endless', (0, 0), (1, 1), (), (1, 0, 1, 0))),), True, False]
+"""
+
+RINGS = """
+>>> from echofields.rings import count_endless, endless_rule, firings, shares_after, value_after
+>>> [firings((1, 2, 0, 3), (3,), 0, many) for many in (3, 4, 9, 10 ** 18)]
+[3, None, 9, None]
+>>> [endless_rule((1, 2, 0, 3), (3,), 0), endless_rule((1, 2, None, 0), (3, 2), 0), count_endless((1, 2, 0, 3), (3,), 0, 10)]
+[(None, 0, 3), (3, None, None), 6]
+>>> [firings((1, 2, 0, 3), (3, 3, 1), 0, many, closed=False) for many in (2, 5, 10 ** 18)]
+[1, 4, 999999999999999999]
+>>> [value_after((1, 2, 0, 3), (3,), 0, 10 ** 18, 7, 6), value_after((1, 2, 0, 3), (3,), 0, 10 ** 18, 6, 10 ** 18)]
+[3, 0]
+>>> shares_after((1, 2, 0, 3), (3,), 0, 10 ** 18, 4)
+(2, 2, 1, 999999999999999995)
+"""
+
+BENCHES = """
+>>> from echofields.benches import Bench, SafeBench
+>>> bench = Bench(((2, 2), ()))
+>>> [bench.add((0, 1, (1, 0), 0)), bench.add((1, 0, (0, 1), 0)), bool(bench), bench.form_at() == T]
+[1, 2, False, True]
+>>> [bench.guard(1, 1), bool(bench), bench.undo(), len(bench), (1, 0, (0, 1), 0) in bench]
+[3, True, 2, 2, True]
+>>> [bench.attempt((("drop", 0), ("entry", 0, 1, None))), str(bench), bench.form_at(version=1)]
+[4, '2,2 / 1>0 0:0,-', ((2, 2), ((0, 1, (1, 0), 0),))]
+>>> safe = SafeBench(T, calm=True)
+>>> [safe.calm, safe.evidence, safe.drop(0), len(safe.evidence), bool(safe)]
+[True, (), 1, 8, True]
+"""
+# That safe.set_calm(False) raises GoesOn((0, 0), (1, 1)) here is tested beside safe benches, as its wording is free.
+
+SHELLS = """
+>>> from echofields.benches import Bench
+>>> from echofields.shells import Shell
+>>> shell = Shell(Bench(S))
+>>> [shell("add 1>0 0:0,0,1"), shell("verdict"), shell("end 0,1 0 1"), shell("loud 1,1"), shell("entry 0 0 9"), shell("Add")]
+['ok 1', 'heights', '1,2 2', '0,1', 'error NoItem', 'unknown command']
+"""
+
 
 class ExamplesTest(unittest.TestCase):
     def check(self, *examples):
@@ -144,7 +190,10 @@ class ExamplesTest(unittest.TestCase):
         self.check((REACHES, 4), (ENDLESS, 4), (PARTING, 3), (ECHOES, 3), (COUNTING, 4), (RULES, 5))
 
     def test_sections_c_to_e(self):
-        self.check((TELLING, 6), (SETTLED, 6), (LIKENESS, 7))
+        self.check((TELLING, 6), (SETTLED, 6), (LIKENESS, 7), (CURES, 4))
+
+    def test_sections_g_and_n(self):
+        self.check((FORMS, 5), (RINGS, 6), (BENCHES, 7), (SHELLS, 4))
 
 
 if __name__ == "__main__":

@@ -6,11 +6,14 @@ import inspect
 import pathlib
 import unittest
 
+from echofields.benches import Bench, SafeBench
 from echofields.fields import Fields
+from echofields.shells import Shell
 
 PACKAGE = pathlib.Path(__file__).resolve().parent.parent / "echofields"
 
 ONE = ["form", "filling", "edit"]
+RING = ["table", "old", "start"]
 
 FUNCTIONS = {
     "forms": {
@@ -52,15 +55,41 @@ FUNCTIONS = {
         "find_difference": ["one", "other"], "difference_holds": ["one", "other", "value"], "idle_links": ["form"],
         "idle_sets": ["form"],
     },
+    "cures": {
+        "treated": ["form", "way", "links"], "find_cures": ["form", "way"], "fewest_cure": ["form", "way"],
+        "cures_hold": ["form", "way", "value"],
+    },
+    "rings": {
+        "firings": RING + ["many", "*closed"], "endless_rule": RING, "count_endless": RING + ["limit"],
+        "value_after": RING + ["many", "field", "times", "*closed"],
+        "shares_after": RING + ["many", "times", "*closed"],
+    },
 }
+DEFAULTS = {"calm": False, "closed": True}
 GENERATORS = ("walk_order", "walk_rule")
 
-METHODS = {
-    "__init__": ["form", "filling"], "refill": ["filling"], "copy": [], "__call__": ["edits"], "__getitem__": ["at"],
-    "__setitem__": ["at", "worth"], "__iadd__": ["other"], "__len__": [], "__contains__": ["x"], "__bool__": [],
-    "__str__": [], "__eq__": ["other"], "__iter__": [],
+SIGNS = {
+    "__getitem__": ["at"], "__setitem__": ["at", "worth"], "__iadd__": ["other"], "__len__": [], "__contains__": ["x"],
+    "__bool__": [], "__str__": [], "__eq__": ["other"], "__iter__": [],
 }
-PROPERTIES = {"form": False, "filling": True, "last": False}
+METHODS = {
+    Fields: SIGNS | {"__init__": ["form", "filling"], "refill": ["filling"], "copy": [], "__call__": ["edits"]},
+    Bench: SIGNS | {
+        "__init__": ["form"], "add": ["link"], "drop": ["index"], "replace": ["index", "link"], "guard": ["index", "guard"],
+        "entry": ["index", "value", "item"], "undo": [], "attempt": ["batch", "*on_step"], "changes": [],
+        "verdict_at": ["*version"], "form_at": ["*version"], "each_version": [], "copy": [], "set_calm": ["value"],
+        "__isub__": ["other"],
+    },
+    SafeBench: {"__init__": ["form", "*calm"]},
+    Shell: {"__init__": ["bench"], "execute": ["value"], "__call__": ["value"]},
+}
+# The properties of each class, and whether they can be set.
+PROPERTIES = {
+    Fields: {"form": False, "filling": True, "last": False}, Bench: {"calm": True}, SafeBench: {"evidence": False},
+    Shell: {"last": False},
+}
+BASES = {Fields: object, Bench: object, SafeBench: Bench, Shell: object}
+HOMES = {Fields: "fields", Bench: "benches", SafeBench: "benches", Shell: "shells"}
 
 
 def defined_in(name):
@@ -88,8 +117,7 @@ class InterfaceTest(unittest.TestCase):
                     parameters = list(inspect.signature(function).parameters.values())
                     self.assertEqual([told(parameter) for parameter in parameters], expected)
                     for parameter in parameters:
-                        expected_default = False if parameter.name == "calm" else parameter.empty
-                        self.assertIs(parameter.default, expected_default)
+                        self.assertIs(parameter.default, DEFAULTS.get(parameter.name, parameter.empty))
 
     def test_generators(self):
         for module, functions in FUNCTIONS.items():
@@ -97,20 +125,30 @@ class InterfaceTest(unittest.TestCase):
                 function = getattr(importlib.import_module(f"echofields.{module}"), name)
                 self.assertIs(inspect.isgeneratorfunction(function), name in GENERATORS)
 
-    def test_the_class_fields_has_its_methods_itself(self):
-        self.assertEqual(defined_in("fields").count("Fields"), 1)
-        self.assertEqual(Fields.__bases__, (object,))
-        for name, expected in METHODS.items():
-            with self.subTest(name=name):
-                parameters = list(inspect.signature(vars(Fields)[name]).parameters.values())
-                self.assertEqual([told(parameter) for parameter in parameters][1:], expected)
+    def test_classes_have_their_methods_themselves(self):
+        for kind, methods in METHODS.items():
+            self.assertEqual(defined_in(HOMES[kind]).count(kind.__name__), 1)
+            self.assertEqual(kind.__bases__, (BASES[kind],))
+            for name, expected in methods.items():
+                with self.subTest(kind=kind.__name__, name=name):
+                    parameters = list(inspect.signature(vars(kind)[name]).parameters.values())
+                    self.assertEqual([told(parameter) for parameter in parameters][1:], expected)
+                    for parameter in parameters:
+                        default = {"version": None, "on_step": None, "calm": False}.get(parameter.name, parameter.empty)
+                        self.assertIs(parameter.default, default)
 
-    def test_the_class_fields_has_its_properties_itself(self):
-        for name, can_be_set in PROPERTIES.items():
-            with self.subTest(name=name):
-                self.assertIs(vars(Fields)[name].__class__, property)
-                self.assertIs(vars(Fields)[name].fset is not None, can_be_set)
-                self.assertIs(vars(Fields)[name].fdel, None)
+    def test_each_version_alone_is_a_generator_among_the_methods(self):
+        for kind, methods in METHODS.items():
+            for name in methods:
+                self.assertIs(inspect.isgeneratorfunction(vars(kind)[name]), name == "each_version")
+
+    def test_classes_have_their_properties_themselves(self):
+        for kind, properties in PROPERTIES.items():
+            for name, can_be_set in properties.items():
+                with self.subTest(kind=kind.__name__, name=name):
+                    self.assertIs(vars(kind)[name].__class__, property)
+                    self.assertIs(vars(kind)[name].fset is not None, can_be_set)
+                    self.assertIs(vars(kind)[name].fdel, None)
 
 
 def told(parameter):

@@ -19,11 +19,12 @@ ALL_BUILTINS = set(vars(builtins)) - {"_"}
 BARRED = set("register mro elements open input law typing enum namedtuple dataclass overload contextmanager".split())
 
 MODIFYING = {"append", "extend", "pop", "setdefault"}
-# The methods that are called: of integers, lists, dicts and strings, and two of Fields.
+# The methods of integers, lists, dicts and strings that are called.
 CALLED = MODIFYING | {
     "bit_length", "count", "index", "get", "items", "values", "join", "split", "partition", "isascii", "isdigit",
-    "refill", "_do",
 }
+# The methods that change their own object, or, copy alone, one that it has made; no operator runs any of them.
+CHANGING = ("__init__", "refill", "_do", "__call__", "copy", "undo", "attempt", "set_calm", "execute")
 
 
 def nodes(file, *kinds):
@@ -104,19 +105,62 @@ class LanguageTest(unittest.TestCase):
             self.assertEqual(nodes(file, ast.Global, ast.AsyncFunctionDef, ast.Await, ast.Div), [], file)
 
     def test_what_operators_bar_in_the_package(self):
+        own = {method.name for file in FILES for kind in nodes(file, ast.ClassDef) for method in methods_of(kind)}
         for file in FILES:
             # A class has +=, so it stands in the code of callers alone; a class has ==, so any and all take lists.
             self.assertEqual(nodes(file, ast.AugAssign, ast.GeneratorExp), [], file)
             for node in nodes(file, ast.Call):
                 if isinstance(node.func, ast.Attribute):
-                    self.assertIn(node.func.attr, CALLED, file)
+                    self.assertIn(node.func.attr, CALLED | own, file)
 
     def test_functions_change_only_what_they_made(self):
         for file in FILES:
             for function in nodes(file, ast.FunctionDef):
-                if function.name not in ("__init__", "refill", "_do", "__call__", "copy"):
+                if function.name not in CHANGING:
                     made, spoilt = changes(function)
                     self.assertLessEqual(spoilt, made, f"{file} {function.name}")
+
+
+    def test_what_operators_and_properties_run(self):
+        called = {}
+        for file in FILES:
+            for function in nodes(file, ast.FunctionDef):
+                # A property that is set has the name of the one that is read, and is run by neither.
+                if not any(ast.unparse(node).endswith(".setter") for node in function.decorator_list):
+                    called.setdefault(function.name, set()).update(names_called(function))
+        quiet = {function.name for file in FILES for kind in nodes(file, ast.ClassDef) for function in methods_of(kind)
+                 if is_quiet(function)}
+        self.assertGreater(len(quiet), 8)
+        while True:
+            more = quiet | {name for function in quiet for name in called.get(function, ()) if name in called}
+            if more == quiet:
+                break
+            quiet = more
+        self.assertIn("find_endless", quiet)
+        self.assertEqual(quiet & set(CHANGING), set())
+        for file in FILES:
+            for function in nodes(file, ast.FunctionDef):
+                if function.name in quiet:
+                    found = [node for node in ast.walk(function) if isinstance(node, (ast.Yield, ast.YieldFrom, ast.Delete))]
+                    self.assertEqual(found, [], f"{file} {function.name}")
+
+
+def methods_of(kind):
+    return [node for node in kind.body if isinstance(node, ast.FunctionDef)]
+
+
+def is_quiet(method):
+    """Tell whether a method is an operator that changes nothing, or a property that is read."""
+    decorators = [ast.unparse(node) for node in method.decorator_list]
+    if decorators:
+        return decorators == ["property"]
+    changing = ("__init__", "__call__", "__setitem__", "__iadd__", "__isub__")
+    return method.name.startswith("__") and method.name not in changing
+
+
+def names_called(function):
+    calls = [node.func for node in ast.walk(function) if isinstance(node, ast.Call)]
+    return {node.id if isinstance(node, ast.Name) else node.attr for node in calls}
 
 
 def changes(function):
