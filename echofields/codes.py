@@ -66,11 +66,24 @@ def all_start_codes(plan):
     return [(place << PLACE) + pending for place, bits in places for pending in (0, bits)]
 
 
+def waking_start_codes(plan):
+    """Return the list of the codes at which the runs of all beginnings start, but for those that are over at once."""
+    rows, _, _, _, outs, _ = plan
+    places = [(field * len(rows) + number, bits) for field, bits in enumerate(outs) for number in range(len(rows))]
+    return [(place << PLACE) + bits for place, bits in places if bits != 0]
+
+
 def moment_of(plan, code):
     """Return the moment that has this code."""
     rows, _, sets, _, _, _ = plan
     field, number = divmod(code >> PLACE, len(rows))
     return (field, rows[number], sets[code & LINKS], sets[code >> SPENT & LINKS])
+
+
+def edited_field(plan, code):
+    """Return the edited field of the moment that has this code."""
+    rows, _, _, _, _, _ = plan
+    return (code >> PLACE) // len(rows)
 
 
 def number_of(plan, code):
@@ -112,13 +125,10 @@ def _firing(form, rows, outs, link):
         drop = drop + (1 << link << SPENT)
     # So much further stands the filling in which the target has one more.
     stride = product_of(sizes[target + 1:]) << PLACE
-    loud = [_more(table[filling[source]], filling[target]) * stride for filling in rows]
+    wishes = [(table[filling[source]], filling[target]) for filling in rows]
+    loud = [0 if wished is None else (wished - item) * stride for wished, item in wishes]
     still = [0] * len(rows)
     jumps = []
     for field in range(len(sizes)):
         jumps = jumps + (still if is_shy(links[link]) and field == target else loud)
     return (drop, jumps, outs[target])
-
-
-def _more(wished, item):
-    return 0 if wished is None else wished - item

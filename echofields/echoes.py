@@ -3,8 +3,8 @@
 from echofields.bounds import MAX_MOMENTS, MAX_SIZE
 from echofields.codes import filling_of, is_over, moment_of, plan_of
 from echofields.evidence import are_closed, closed_codes, codes_read, end_or_none, is_asked
-from echofields.forms import fillings, is_edit, rests_at
-from echofields.kinds import is_ascending, is_tuple_of
+from echofields.forms import fillings, rests_at
+from echofields.kinds import are_whole, is_ascending, is_tuple_of
 from echofields.orders import codes_ahead, first_order, over_codes, spread
 from echofields.reaches import beginning_at, check_reach, firings_from, moments_told, start_codes, starts_of
 
@@ -128,7 +128,9 @@ def _rows_by_value(form, plan, value):
     if not all([is_tuple_of(row, 2) for row in value]):
         return None
     codes = codes_read(plan, [row[1] for row in value])
-    if codes is None or not all([is_edit(form, (row[1][0], row[0])) for row in value]) or not is_ascending(value):
+    if codes is None or not are_whole([item for item, _ in value]):
+        return None
+    if not all([0 <= item < form[0][moment[0]] for item, moment in value]) or not is_ascending(value):
         return None
     groups = {}
     for (item, _), code in zip(value, codes):

@@ -4,7 +4,7 @@ from echofields.bounds import MAX_MOMENTS
 from echofields.codes import PLACE, SPENT, codes_behind
 from echofields.errors import BadOrder
 from echofields.forms import is_edit, is_filling, rests_at
-from echofields.kinds import are_whole, is_ascending, is_index, is_natural, is_tuple_of
+from echofields.kinds import are_whole, is_ascending, is_tuple_of
 from echofields.runs import begin, moment_after
 
 
@@ -46,9 +46,9 @@ def goes_round(form, filling, edit, order, ring):
 def are_heights(plan, starts, value):
     """Tell whether value has rows of moments and integers that show that no run from the starts is endless."""
     heights = rows_read(plan, value)
-    if heights is None or not all([is_natural(height) for height in heights.values()]):
+    if heights is None or not all([start in heights for start in starts]):
         return False
-    if not all([start in heights for start in starts]):
+    if not are_whole(list(heights.values())) or min(heights.values(), default=0) < 0:
         return False
     return all([
         heights.get(behind, height) < height for code, height in heights.items() for behind in codes_behind(plan, code)
@@ -82,7 +82,9 @@ def rows_read(plan, value):
     Return None if value is not an ascending tuple of at most MAX_MOMENTS pairs of a moment and something, with no
     moment twice.
     """
-    if not isinstance(value, tuple) or len(value) > MAX_MOMENTS or not all([is_tuple_of(row, 2) for row in value]):
+    if not isinstance(value, tuple) or len(value) > MAX_MOMENTS:
+        return None
+    if not all([isinstance(row, tuple) and len(row) == 2 for row in value]):
         return None
     codes = ascending_codes(plan, [row[0] for row in value])
     if codes is None:
@@ -106,7 +108,7 @@ def codes_read(plan, values):
         if not _has_integers(value):
             return None
         field, filling, pending, spent = value
-        if not (is_index(field, len(outs)) and filling in numbers and pending in bits and spent in bits):
+        if not (0 <= field < len(outs) and filling in numbers and pending in bits and spent in bits):
             return None
         if bits[spent] & (bits[pending] | ~once) != 0:
             return None
@@ -117,7 +119,7 @@ def codes_read(plan, values):
 
 def _has_integers(value):
     """Tell whether value has the parts of a moment: an integer and three tuples of integers."""
-    if not is_tuple_of(value, 4):
+    if not isinstance(value, tuple) or len(value) != 4:
         return False
     field, filling, pending, spent = value
     if not (isinstance(filling, tuple) and isinstance(pending, tuple) and isinstance(spent, tuple)):

@@ -16,18 +16,18 @@ def fall(plan, starts):
         walk = [start]
         while walk != []:
             code = walk[-1]
-            if code in left:
+            if code in entered:
                 walk.pop()
-            elif code in entered:
-                left[code] = entered[code]
-                walk.pop()
+                if code not in left:
+                    left[code] = entered[code]
             else:
                 entered[code] = codes_behind(plan, code)
-                ahead = [behind for behind in entered[code] if behind not in left]
-                # What was entered and not left leads to this code.
-                if any([behind in entered for behind in ahead]):
-                    return (left, start)
-                walk.extend(ahead)
+                for behind in entered[code]:
+                    if behind not in left:
+                        # What was entered and not left leads to this code.
+                        if behind in entered:
+                            return (left, start)
+                        walk.append(behind)
     return (left, None)
 
 

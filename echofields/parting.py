@@ -68,17 +68,13 @@ def _are_ends(plan, starts, value):
     _, numbers, _, _, _, _ = plan
     if not all([end is None or _is_among(numbers, end) for end in ends.values()]):
         return False
-    return all([_is_kept(plan, ends, code) for code in ends])
+    if not all([end == filling_of(plan, code) for code, end in ends.items() if is_over(code)]):
+        return False
+    return all([
+        ends.get(behind, False) in (end, None) for code, end in ends.items() for behind in codes_behind(plan, code)
+    ])
 
 
 def _is_among(fillings, value):
     """Tell whether value is one of the fillings that are the keys of a dict."""
     return isinstance(value, tuple) and are_whole(value) and value in fillings
-
-
-def _is_kept(plan, ends, code):
-    """Tell whether the end that is told for a code fits what is told for those right behind it."""
-    end = ends[code]
-    if is_over(code):
-        return end == filling_of(plan, code)
-    return all([ends.get(behind, False) in (end, None) for behind in codes_behind(plan, code)])

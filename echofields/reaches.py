@@ -1,7 +1,9 @@
 """What orders lead to: the moments that are reached from beginnings."""
 
 from echofields.bounds import MAX_MOMENTS
-from echofields.codes import all_start_codes, codes_behind, in_order, links_at, moment_of, plan_of, start_code
+from echofields.codes import (
+    all_start_codes, codes_behind, edited_field, in_order, links_at, moment_of, plan_of, start_code,
+)
 from echofields.errors import TooManyMoments
 from echofields.forms import all_edits, fillings, product_of, rests_at
 from echofields.runs import check_beginning, is_once
@@ -27,10 +29,16 @@ def reached_from(form, filling, edit):
 
 def check_reach(form, calm):
     """Raise TooManyMoments if it is due for the asked beginnings."""
-    # Mostly this is known without going through the moments.
-    if may_be_many(form):
+    # Mostly this is known without going through the moments, or through those of some edited fields alone.
+    most = [_most_edited(form, field) for field in range(len(form[0]))]
+    if sum(most) > MAX_MOMENTS:
         plan = plan_of(form)
-        codes_from(plan, start_codes(form, plan, calm))
+        starts = start_codes(form, plan, calm)
+        for field in range(len(most)):
+            if sum(most) > MAX_MOMENTS:
+                most[field] = len(codes_from(plan, [code for code in starts if edited_field(plan, code) == field]))
+    if sum(most) > MAX_MOMENTS:
+        raise TooManyMoments()
 
 
 def may_be_many(form):

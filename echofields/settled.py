@@ -1,7 +1,7 @@
 """Settled forms: each edit leads each filling to one filling, whatever order is taken."""
 
 from echofields.bounds import MAX_ROW
-from echofields.codes import number_of, plan_of
+from echofields.codes import number_of, plan_of, waking_start_codes
 from echofields.errors import BadEdit, BadEdits, Unsettled
 from echofields.falls import fall
 from echofields.forms import all_edits, check_filling, fillings, is_edit, is_filling
@@ -12,11 +12,9 @@ from echofields.reaches import check_reach, starts_of
 
 def find_unsettled(form):
     """Return the least beginning from which a run is endless or that has two ends, None if there is none."""
-    starts, ends = _ends_of_all(form)
-    for beginning, code in starts.items():
-        if ends.get(code) is None:
-            return beginning
-    return None
+    check_reach(form, False)
+    plan = plan_of(form)
+    return None if _settled_ends(plan) is not None else _least_unsettled(form, plan)
 
 
 def led_to(form, filling, edits):
@@ -48,15 +46,17 @@ def row_holds(form, filling, goal, value):
     """Tell whether value is evidence of a row of edits from a filling to a goal, or that there is none."""
     check_filling(form, filling)
     check_filling(form, goal)
-    leads = _leads_of(form)
+    plan, ends = _checked_ends(form)
     if is_tuple_of(value, 3) and value[0] == "row":
         _, edits, numbers = value
-        if not _is_row(form, edits) or _led_by(leads, filling, edits) != goal or not _are_numbers(form, numbers):
+        if not _is_row(form, edits) or not _are_numbers(form, numbers):
             return False
+        leads = _leads(form, plan, ends)
         far = dict(zip(fillings(form), numbers))
-        return far[goal] == 0 and far[filling] == len(edits) and _are_distances(leads, far)
+        told = far[goal] == 0 and far[filling] == len(edits)
+        return told and _led_by(leads, filling, edits) == goal and _are_distances(leads, far)
     if is_tuple_of(value, 2) and value[0] == "closed":
-        return _are_fillings(form, value[1]) and _is_closed(leads, filling, goal, value[1])
+        return _are_fillings(form, value[1]) and _is_closed(_leads(form, plan, ends), filling, goal, value[1])
     return False
 
 
@@ -90,34 +90,59 @@ def rooms(form):
     return tuple([room for room, row in zip(classes, led) if room[0] == row])
 
 
-def _ends_of_all(form):
-    """Return a dict with the code at which each beginning's run starts, and one with the ends of codes.
-
-    The latter one has the number of an end, or None where there are several; it may lack codes from the first endless
-    run on.
-    """
+def _checked_ends(form):
+    """Return the plan of the form and what _settled_ends returns, or raise TooManyMoments or Unsettled."""
     check_reach(form, False)
     plan = plan_of(form)
+    ends = _settled_ends(plan)
+    if ends is None:
+        filling, edit = _least_unsettled(form, plan)
+        raise Unsettled(filling, edit)
+    return (plan, ends)
+
+
+def _settled_ends(plan):
+    """Return a dict with the ends of all codes that are reached where something fires, None if it is not settled."""
+    # In any order of the starts, so that none of them comes twice.
+    left, endless = fall(plan, waking_start_codes(plan))
+    ends = _ends_in(plan, left)
+    return None if endless is not None or None in list(ends.values()) else ends
+
+
+def _least_unsettled(form, plan):
     starts = starts_of(form, plan, False)
     left, _ = fall(plan, list(starts.values()))
+    ends = _ends_in(plan, left)
+    # From the first endless run on, the fall lacks what it has not come to.
+    for beginning, code in starts.items():
+        if ends.get(code) is None:
+            return beginning
+    return None
+
+
+def _ends_in(plan, left):
+    """Return a dict with the number of the end of each code of a fall, or None where there are several."""
     ends = {}
     for code, behind in left.items():
-        told = [ends[other] for other in behind]
-        if told == []:
+        if behind == []:
             ends[code] = number_of(plan, code)
         else:
+            told = [ends[other] for other in behind]
             ends[code] = told[0] if told.count(told[0]) == len(told) else None
-    return (starts, ends)
+    return ends
 
 
 def _leads_of(form):
+    """Return what _leads returns, or raise TooManyMoments or Unsettled."""
+    plan, ends = _checked_ends(form)
+    return _leads(form, plan, ends)
+
+
+def _leads(form, plan, ends):
     """Return a dict with the filling to which each filling is led by each edit, the keys being the beginnings."""
-    starts, ends = _ends_of_all(form)
-    for (filling, edit), code in starts.items():
-        if ends.get(code) is None:
-            raise Unsettled(filling, edit)
     rows = fillings(form)
-    return {beginning: rows[ends[code]] for beginning, code in starts.items()}
+    starts = starts_of(form, plan, False)
+    return {beginning: rows[ends.get(code, number_of(plan, code))] for beginning, code in starts.items()}
 
 
 def _led_by(leads, filling, edits):
