@@ -1,6 +1,6 @@
 """Orders among moments that are reached, over the dict of their firings that firings_from returns."""
 
-from echofields.codes import filling_of, is_over, number_of
+from echofields.codes import is_over, number_of
 
 
 def over_codes(firings):

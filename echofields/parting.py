@@ -75,6 +75,6 @@ def _are_ends(plan, starts, value):
     ])
 
 
-def _is_among(fillings, value):
+def _is_among(rows, value):
     """Tell whether value is one of the fillings that are the keys of a dict."""
-    return isinstance(value, tuple) and are_whole(value) and value in fillings
+    return isinstance(value, tuple) and are_whole(value) and value in rows

@@ -43,6 +43,10 @@ def bound_names(tree):
     return found
 
 
+def is_assigned(tree, name):
+    return any(isinstance(node, ast.Assign) and node.targets[0].id == name for node in tree.body)
+
+
 class LanguageTest(unittest.TestCase):
     def test_the_folder_holds_plain_files_only(self):
         names = [path.name for path in PACKAGE.iterdir() if path.name != "__pycache__"]
@@ -79,6 +83,24 @@ class LanguageTest(unittest.TestCase):
                        for kept in bound_names(ast.Module([part], []))]
                 for alias in node.names:
                     self.assertIn(alias.name, own, file)
+
+    def test_what_is_imported_is_read_and_not_named_anew(self):
+        for file in FILES:
+            tree = ast.parse(file.read_text())
+            imported = {alias.name for node in nodes(file, ast.ImportFrom) for alias in node.names}
+            read = {node.id for node in nodes(file, ast.Name) if isinstance(node.ctx, ast.Load)}
+            self.assertLessEqual(imported, read, file)
+            stored = [node.id for node in nodes(file, ast.Name) if not isinstance(node.ctx, ast.Load)]
+            stored += [node.arg for node in nodes(file, ast.arg)] + [node.name for node in nodes(file, ast.ExceptHandler)]
+            for name in bound_names(tree):
+                self.assertEqual(stored.count(name), int(is_assigned(tree, name)), f"{file} {name}")
+
+    def test_no_two_files_import_from_each_other(self):
+        needs = {file.stem: {node.module.partition(".")[2] for node in nodes(file, ast.ImportFrom)} for file in FILES}
+        while needs:
+            ready = {name for name, others in needs.items() if not others & set(needs)}
+            self.assertNotEqual(ready, set(), f"in a circle: {sorted(needs)}")
+            needs = {name: others for name, others in needs.items() if name not in ready}
 
     def test_each_name_is_bound_once(self):
         for file in FILES:
