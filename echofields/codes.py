@@ -67,10 +67,8 @@ def all_start_codes(plan):
 
 
 def waking_start_codes(plan):
-    """Return the list of the codes at which the runs of all beginnings start, but for those that are over at once."""
-    rows, _, _, _, outs, _ = plan
-    places = [(field * len(rows) + number, bits) for field, bits in enumerate(outs) for number in range(len(rows))]
-    return [(place << PLACE) + bits for place, bits in places if bits != 0]
+    """Return likewise a list of those at which something is pending."""
+    return [code for code in all_start_codes(plan) if not is_over(code)]
 
 
 def moment_of(plan, code):

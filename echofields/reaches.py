@@ -34,7 +34,7 @@ def check_reach(form, calm):
     if sum(most) > MAX_MOMENTS:
         plan = plan_of(form)
         starts = start_codes(form, plan, calm)
-        for field in range(len(most)):
+        for field in range(len(form[0])):
             if sum(most) > MAX_MOMENTS:
                 most[field] = len(codes_from(plan, [code for code in starts if edited_field(plan, code) == field]))
     if sum(most) > MAX_MOMENTS:

@@ -103,13 +103,15 @@ def _checked_ends(form):
 
 def _settled_ends(plan):
     """Return a dict with the ends of all codes that are reached where something fires, None if it is not settled."""
-    # In any order of the starts, so that none of them comes twice.
     left, endless = fall(plan, waking_start_codes(plan))
+    if endless is not None:
+        return None
     ends = _ends_in(plan, left)
-    return None if endless is not None or None in list(ends.values()) else ends
+    return None if None in list(ends.values()) else ends
 
 
 def _least_unsettled(form, plan):
+    # This takes longer than the question whether there is one, as beginnings are many and start alike.
     starts = starts_of(form, plan, False)
     left, _ = fall(plan, list(starts.values()))
     ends = _ends_in(plan, left)
