@@ -72,12 +72,11 @@ class Bench:
         done = None
         # Whatever on_step raises passes through here, also what is no error of the package.
         try:
+            self._busy = True
             for index, change in enumerate(batch):
                 self._step(index, change)
                 if on_step is not None:
-                    self._busy = True
                     on_step(self)
-                    self._busy = False
             done = True
         finally:
             self._busy = False

@@ -47,8 +47,7 @@ def may_be_many(form):
 
 
 def check_reach_at(form, filling, edit):
-    """Raise TooManyMoments if it is due for one beginning."""
-    check_beginning(form, filling, edit)
+    """Raise TooManyMoments if it is due for what is one beginning."""
     if _most_edited(form, edit[0]) > MAX_MOMENTS:
         plan = plan_of(form)
         codes_from(plan, [start_code(plan, filling, edit)])

@@ -1,8 +1,8 @@
 """Rules that tell which of the pending links fires next."""
 
-from echofields.codes import codes_behind, filling_of, links_at, moment_of, plan_of
+from echofields.codes import codes_behind, filling_of, links_at, moment_of, plan_of, start_code
 from echofields.errors import NoRule
-from echofields.reaches import check_reach, check_reach_at, start_at, starts_of
+from echofields.reaches import check_reach, check_reach_at, starts_of
 from echofields.runs import check_beginning
 
 RULES = ("queue", "stack", "least")
@@ -25,7 +25,7 @@ def walk_rule(form, filling, edit, rule):
     _check_rule(rule)
     check_reach_at(form, filling, edit)
     plan = plan_of(form)
-    code = start_at(form, plan, filling, edit)
+    code = start_code(plan, filling, edit)
     line = links_at(plan, code)
     seen = {}
     while line != () and (code, line) not in seen:

@@ -504,6 +504,12 @@ class AskedTest(unittest.TestCase):
         bench.undo()
         self.assertTrue(same(state(other), before))
 
+    def test_copies_of_new_benches(self):
+        for bench in (Bench(S), SafeBench(S)):
+            twin = bench.copy()
+            self.assertIs(twin == bench, True)
+            self.assertEqual([twin.drop(0), len(twin), len(bench)], [1, 0, 1])
+
     def test_equal_benches(self):
         forms = [S, T, U, P, LONE, ((2, 3), ()), ((2, 3), (S[1][0][:3] + (0,),))]
         benches = []

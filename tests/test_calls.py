@@ -14,7 +14,7 @@ from echofields.errors import TooManyMoments
 from echofields.forms import field_ring, ring_holds
 from echofields.likeness import difference_holds, find_difference
 from echofields.parting import find_parting, parting_holds
-from echofields.reaches import _most_edited, beginnings, check_reach, reached
+from echofields.reaches import _most_edited, beginnings, check_reach, check_reach_at, reached
 from echofields.settled import find_row, row_holds
 from echofields.telling import find_telling, telling_holds
 from tests import checks, naive, naive_more
@@ -148,6 +148,14 @@ class BoundTest(unittest.TestCase):
         for form in (RESTING_3000, TURNING_3000):
             self.assertGreater(sum(_most_edited(form, field) for field in range(4)), 3000)
             self.assertIs(raised(lambda: check_reach(form, False)), None)
+
+    def test_one_beginning(self):
+        for beginning in (((0, 0), (0, 1)), ((0, 1), (0, 1)), ((0, 0), (0, 0)), ((0, 0), (1, 1)), ((1, 1), (1, 0))):
+            many = len(naive.reach(STATES, [beginning]))
+            for limit in {1, 4, 10, many - 1, many} - {0}:
+                with mock.patch("echofields.reaches.MAX_MOMENTS", limit):
+                    error = raised(lambda: check_reach_at(STATES, *beginning))
+                    self.assertIs(error.__class__ is TooManyMoments, limit < many)
 
     def test_fields_that_are_gone_through_one_by_one(self):
         for form in checks.MIXED[::3] + [RINGED, naive_more.left_out(RESTING_3000, (0, 5))]:
